@@ -68,13 +68,13 @@ func gap(depth int, begun bool) string {
 
 func spelt(t Token) string {
 	if t.Kind == "str" {
-		return quote(t.Text)
+		return Quote(t.Text)
 	}
 	return t.Text
 }
 
-// quote writes a str as short as it can be.
-func quote(s string) string {
+// Quote writes a str as short as it can be.
+func Quote(s string) string {
 	var out strings.Builder
 	out.WriteByte('"')
 	for i := range len(s) {
