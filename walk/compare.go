@@ -1,0 +1,112 @@
+package walk
+
+import (
+	"cmp"
+	"strings"
+)
+
+// A comparison remembers which lists and dicts it found equal: they may stand in what is compared more often than could be gone through.
+type comparison struct {
+	found map[couple]int // how deep they were
+}
+
+type couple struct {
+	left, right any
+}
+
+func equal(left, right any) bool {
+	var c comparison
+	return c.equal(left, right, 1)
+}
+
+// equal: lists and dicts are so deep in what is compared.
+func (c *comparison) equal(left, right any, deep int) bool {
+	if x, y, ok := both[*list](left, right); ok {
+		return c.within(couple{x, y}, deep, func() bool { return c.lists(x, y, deep+1) })
+	}
+	if x, y, ok := both[*dict](left, right); ok {
+		return c.within(couple{x, y}, deep, func() bool { return c.dicts(x, y, deep+1) })
+	}
+	return left == right
+}
+
+// within asks what is in two of one kind, if it is not yet known. (Found equal deeper in each other, they are no deeper here; found unlike, there was nothing left to ask.)
+func (c *comparison) within(both couple, deep int, asked func() bool) bool {
+	nest(deep)
+	if deep <= c.found[both] {
+		return true
+	}
+	if !asked() {
+		return false
+	}
+	if c.found == nil {
+		c.found = map[couple]int{}
+	}
+	c.found[both] = deep
+	return true
+}
+
+func (c *comparison) lists(left, right *list, deep int) bool {
+	if len(left.items) != len(right.items) {
+		return false
+	}
+	for n, v := range left.items {
+		if !c.equal(v, right.items[n], deep) {
+			return false
+		}
+	}
+	return true
+}
+
+func (c *comparison) dicts(left, right *dict, deep int) bool {
+	if len(left.keys) != len(right.keys) {
+		return false
+	}
+	for n, key := range left.keys {
+		m, ok := right.find(key)
+		if !ok || !c.equal(left.values[n], right.values[m], deep) {
+			return false
+		}
+	}
+	return true
+}
+
+// same: what `is` asks.
+func same(left, right any) bool {
+	switch left.(type) {
+	case *list, *dict, *function:
+		return left == right
+	}
+	return equal(left, right)
+}
+
+// order: below 0, 0 or above it, as the left one is less, equal or more.
+func order(left, right any) int {
+	if x, y, ok := both[int64](left, right); ok {
+		return cmp.Compare(x, y)
+	}
+	if x, y, ok := both[string](left, right); ok {
+		return cmp.Compare(x, y)
+	}
+	panic(raised{typeError})
+}
+
+// contains: what `in` asks.
+func contains(thing, v any) bool {
+	switch x := thing.(type) {
+	case *list:
+		var c comparison
+		for _, item := range x.items {
+			if c.equal(item, v, 1) {
+				return true
+			}
+		}
+		return false
+	case *dict:
+		_, ok := x.find(v)
+		return ok
+	case string:
+		return strings.Contains(x, as[string](v))
+	}
+	panic(raised{typeError})
+}
