@@ -122,11 +122,24 @@ func TestConsts(t *testing.T) {
 		if w, err := word.OfConst(n); w != want || err != nil {
 			t.Errorf("%d: %#x, %v; want %#x", n, w, err, want)
 		}
+		if m, err := word.ToConst(want); m != n || err != nil {
+			t.Errorf("%#x: %d, %v; want %d", want, m, err, n)
+		}
 	}
 	for _, n := range edges() {
 		w, err := word.OfConst(int(n))
 		if (n < 0 || n > 2) && (w != 0 || !same(err, api.ErrBound)) {
 			t.Errorf("%d: %#x, %v", n, w, err)
+		}
+	}
+}
+
+func TestNoConsts(t *testing.T) {
+	for _, w := range append(words(), 0, 1, 2, 3, 6, 10, 14, 1<<63|2, 1<<62|6) {
+		n, err := word.ToConst(w)
+		there := w == 2 || w == 6 || w == 10
+		if there && (err != nil || n != int(w/4)) || !there && (n != 0 || !same(err, api.ErrShape)) {
+			t.Errorf("%#x: %d, %v", w, n, err)
 		}
 	}
 }
@@ -284,11 +297,10 @@ func TestUnlikeThings(t *testing.T) {
 		if _, err := word.ToHead(w); err == nil {
 			reads++
 		}
-		want := 1
-		if word.Kind(w) == api.Const { // no call reads one
-			want = 0
+		if _, err := word.ToConst(w); err == nil {
+			reads++
 		}
-		if reads != want {
+		if reads != 1 {
 			t.Errorf("%#x: read in %d ways", w, reads)
 		}
 	}
@@ -303,6 +315,8 @@ func TestUnlikeWords(t *testing.T) {
 			x.n = n
 		} else if a, err := word.ToAddr(w); err == nil {
 			x.n = int64(a)
+		} else if c, err := word.ToConst(w); err == nil {
+			x.n = int64(c)
 		} else if h, err := word.ToHead(w); err == nil {
 			x.head = h
 		} else {

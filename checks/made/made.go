@@ -1,4 +1,5 @@
-// Package made makes programs up, for tests: they mostly do something, for each name is mostly of one kind.
+// Package made makes programs and memories up, for tests. The programs mostly do something, for each name is mostly of
+// one kind.
 package made
 
 import (

@@ -1,0 +1,519 @@
+package mem_test
+
+import (
+	"fmt"
+	"math/rand"
+	"slices"
+	"sort"
+	"strings"
+	"sync"
+	"testing"
+
+	"nurserypy/api"
+	"nurserypy/checks/made"
+	"nurserypy/mem"
+)
+
+// What follows is a second reading of P80 to P84, from the memory's words alone.
+
+type thing struct {
+	kind, age int
+	fields    []api.Word
+}
+
+// things: the objects of a memory by where they begin; nil if the used parts are not objects.
+func things(m *mem.Memory) map[int]thing {
+	out := map[int]thing{}
+	for _, part := range [][3]int{{m.Used * m.Half, m.Top, 15}, {2 * m.Half, m.OldTop, 0}} {
+		left := part[1]
+		for at := part[0]; left > 0; {
+			w := m.W[at]
+			size, kind, age := int(w/65536), int(w/4%256), int(w/1024%16)
+			if w%4 != 3 || w/16384%4 != 0 || w/65536 > 4096 || age > part[2] || size+1 > left {
+				return nil
+			}
+			out[at] = thing{kind, age, m.W[at+1 : at+1+size]}
+			at, left = at+1+size, left-1-size
+		}
+	}
+	return out
+}
+
+// may: whether a word may be a field, where these things are.
+func may(l map[int]thing, w api.Word) bool {
+	_, there := l[int(w/4)-1]
+	return w == 0 || w%4 == 0 && there || w%4 == 1 || w == 2 || w == 6 || w == 10
+}
+
+func right(m *mem.Memory) error {
+	if m.Half < 1 || m.Half > 65536 || m.Old < 1 || m.Old > 65536 || m.Card < 1 || m.Card > 1024 || m.Used < 0 || m.Used > 1 {
+		return api.ErrShape
+	}
+	if cards := len(m.Cards); cards*m.Card < m.Old || (cards-1)*m.Card >= m.Old {
+		return api.ErrShape
+	}
+	if len(m.W) != m.Half+m.Half+m.Old || m.Top < 0 || m.Top > m.Half || m.OldTop < 0 || m.OldTop > m.Old {
+		return api.ErrShape
+	}
+	l := things(m)
+	if l == nil {
+		return api.ErrShape
+	}
+	words := slices.Concat(m.Roots, m.Weak)
+	var answer error
+	for at, x := range l {
+		if x.kind > 7 {
+			words = append(words, x.fields...)
+		}
+		for i, w := range x.fields {
+			if x.kind > 7 && at >= m.Half+m.Half && w%4 == 0 && w > 0 && w/4 <= api.Word(2*m.Half) && !m.Cards[(at+1+i-2*m.Half)/m.Card] {
+				answer = api.ErrPlace
+			}
+		}
+	}
+	for i, id := range m.IDs {
+		if _, there := l[int(id.At/4)-1]; id.At%4 != 0 || !there || id.Serial <= 0 {
+			return api.ErrShape
+		}
+		for _, other := range m.IDs[:i] {
+			if other.At == id.At || other.Serial == id.Serial {
+				return api.ErrShape
+			}
+		}
+	}
+	for _, w := range words {
+		if !may(l, w) {
+			return api.ErrShape
+		}
+	}
+	return answer
+}
+
+// graph: P83's text, and P84's number.
+func graph(m *mem.Memory) (string, int) {
+	l := things(m)
+	var order []int
+	number := func(w api.Word) int { return slices.Index(order, int(w/4)-1) }
+	tell := func(w api.Word) string {
+		switch {
+		case w == 0:
+			return "nowhere"
+		case w%4 == 1:
+			return fmt.Sprint(int64(w) >> 2)
+		case w%4 == 2:
+			return []string{"none", "false", "true"}[w/4]
+		case number(w) < 0:
+			return "@"
+		}
+		return fmt.Sprint("@", number(w))
+	}
+	come := func(words []api.Word) {
+		for _, w := range words {
+			if w%4 == 0 && w > 0 && number(w) < 0 {
+				order = append(order, int(w/4)-1)
+			}
+		}
+	}
+	come(m.Roots)
+	for i := 0; i < len(order); i++ {
+		if x := l[order[i]]; x.kind > 7 {
+			come(x.fields)
+		}
+	}
+	text, live := "", 0
+	for _, w := range m.Roots {
+		text += fmt.Sprintf("root %s\n", tell(w))
+	}
+	for i, at := range order {
+		text += fmt.Sprintf("%d %d", i, l[at].kind)
+		for _, w := range l[at].fields {
+			if l[at].kind < 8 {
+				text += fmt.Sprintf(" 0x%016x", w)
+			} else {
+				text += " " + tell(w)
+			}
+		}
+		text += "\n"
+		live += len(l[at].fields) + 1
+	}
+	for _, w := range m.Weak {
+		text += fmt.Sprintf("weak %s\n", tell(w))
+	}
+	ids := slices.Clone(m.IDs)
+	sort.Slice(ids, func(i, j int) bool { return ids[i].Serial < ids[j].Serial })
+	for _, id := range ids {
+		if number(id.At) >= 0 {
+			text += fmt.Sprintf("id %d %s\n", id.Serial, tell(id.At))
+		}
+	}
+	return text, live
+}
+
+func TestMadeUp(t *testing.T) {
+	objects, deep := 0, 0
+	for seed := range 5000 {
+		m := made.Memory(seed)
+		whole := plainly(m)
+		if err := m.Check(); err != nil || right(m) != nil {
+			t.Fatal(seed, err, right(m))
+		}
+		text, live := graph(m)
+		if s, err := m.Graph(); s != text || err != nil {
+			t.Fatalf("%d: %v\n%s\nwant\n%s", seed, err, s, text)
+		}
+		if n, err := m.Live(); n != live || err != nil {
+			t.Fatal(seed, n, live, err)
+		}
+		for at, x := range things(m) {
+			for i, w := range x.fields {
+				if got, err := m.Get(ptr(at), i); got != w || err != nil {
+					t.Fatal(seed, at, i, got, w, err)
+				}
+			}
+		}
+		if !same(m, &whole) {
+			t.Fatal(seed, "changed")
+		}
+		objects += len(things(m))
+		deep += strings.Count(text, "\n")
+	}
+	if objects < 50000 || deep < 30000 {
+		t.Error("few objects, or few that can be come to:", objects, deep)
+	}
+}
+
+// spoil changes something of a memory, whatever.
+func spoil(r *rand.Rand, m *mem.Memory) {
+	near := func(n int) int { return n + r.Intn(5) - 2 }
+	word := func() api.Word {
+		switch r.Intn(5) {
+		case 0:
+			return ptr(r.Intn(len(m.W) + 3))
+		case 1:
+			return head(r.Intn(256), r.Intn(4)) | api.Word(r.Intn(8))<<12
+		case 2:
+			return api.Word(r.Intn(20))
+		case 3:
+			return r.Uint64()
+		}
+		return m.W[r.Intn(len(m.W))]
+	}
+	pick := func(l []api.Word) {
+		if len(l) > 0 {
+			l[r.Intn(len(l))] = word()
+		}
+	}
+	switch r.Intn(16) {
+	case 0:
+		m.Half = near(m.Half)
+	case 1:
+		m.Old = near(m.Old)
+	case 2:
+		m.Card = near(m.Card)
+	case 3:
+		m.Used = near(m.Used)
+	case 4:
+		m.Top = near(m.Top)
+	case 5:
+		m.OldTop = near(m.OldTop)
+	case 6:
+		pick(m.Roots)
+	case 7:
+		pick(m.Weak)
+	case 8:
+		if len(m.IDs) > 0 {
+			m.IDs[r.Intn(len(m.IDs))].At = word()
+		}
+	case 9:
+		if len(m.IDs) > 0 {
+			i := r.Intn(len(m.IDs))
+			m.IDs[i].Serial = near(m.IDs[i].Serial)
+		}
+	case 10, 11:
+		if len(m.Cards) > 0 {
+			m.Cards[r.Intn(len(m.Cards))] = false
+		}
+	case 12:
+		m.W = append(m.W, word())
+	case 13:
+		i := r.Intn(len(m.W))
+		m.W[i] ^= 1 << r.Intn(64)
+	default:
+		m.W[r.Intn(len(m.W))] = word()
+	}
+}
+
+func TestSpoilt(t *testing.T) {
+	r := rand.New(rand.NewSource(8))
+	told := map[error]int{}
+	for seed := range 40000 {
+		m := made.Memory(seed % 2000)
+		for range 1 + r.Intn(2) {
+			spoil(r, m)
+		}
+		whole := plainly(m)
+		want := right(m)
+		told[want]++
+		if err := m.Check(); err != want {
+			t.Fatalf("%d: %v, want %v\n%v", seed, err, want, m)
+		}
+		s, err := m.Graph()
+		n, bad := m.Live()
+		if want != nil && (s != "" || n != 0) || err != want || bad != want {
+			t.Fatal(seed, s, n, err, bad, want)
+		}
+		if !same(m, &whole) {
+			t.Fatal(seed, "changed")
+		}
+	}
+	if told[nil] < 5000 || told[api.ErrShape] < 5000 || told[api.ErrPlace] < 200 {
+		t.Error(told)
+	}
+}
+
+// act: one call of P82 with whatever is handed to it; what must be answered, and what the memory must be then.
+func act(t *testing.T, r *rand.Rand, m *mem.Memory) error {
+	t.Helper()
+	l := things(m)
+	word := func() api.Word {
+		if r.Intn(3) == 0 {
+			return []api.Word{nowhere, none, trueWord, small(-9), 14, 3, ptr(len(m.W)), ptr(m.Top), r.Uint64()}[r.Intn(9)]
+		}
+		return ptr(r.Intn(len(m.W)))
+	}
+	good := func() api.Word {
+		for {
+			if w := word(); may(l, w) || r.Intn(40) == 0 {
+				return w
+			}
+		}
+	}
+	after := plainly(m)
+	if r.Intn(3) == 0 {
+		kind := []int{0, 7, 8, 255, -1, 256, r.Intn(256)}[r.Intn(7)]
+		fields := make([]api.Word, r.Intn(6))
+		var want error
+		for i := range fields {
+			fields[i] = good()
+			if kind > 7 && !may(l, fields[i]) {
+				want = api.ErrShape
+			}
+		}
+		at := m.Used*m.Half + m.Top
+		switch {
+		case kind < 0 || kind > 255:
+			want = api.ErrBound
+		case want == nil && m.Top+1+len(fields) > m.Half:
+			want = api.ErrFull
+		case want == nil:
+			after.W = slices.Replace(after.W, at, at+1+len(fields), append([]api.Word{head(kind, len(fields))}, fields...)...)
+			after.Top += 1 + len(fields)
+		}
+		p, err := m.Alloc(kind, fields)
+		if err != want || want == nil && p != ptr(at) || want != nil && p != 0 || !same(m, &after) {
+			t.Fatalf("Alloc %d %v: %#x, %v, want %v", kind, fields, p, err, want)
+		}
+		return want
+	}
+	p, field, w := word(), r.Intn(5)-1, good()
+	at := int(p/4) - 1
+	x, there := l[at]
+	var want error
+	switch {
+	case !there || p%4 != 0:
+		want = api.ErrPlace
+	case field < 0 || field >= len(x.fields):
+		want = api.ErrBound
+	}
+	got, err := m.Get(p, field)
+	if err != want || want != nil && got != 0 || want == nil && got != x.fields[field] || !same(m, &after) {
+		t.Fatalf("Get %#x %d: %#x, %v, want %v", p, field, got, err, want)
+	}
+	switch {
+	case want != nil:
+	case x.kind < 8 || !may(l, w):
+		want = api.ErrShape
+	default:
+		after.W[at+1+field] = w
+		if w%4 == 0 && w > 0 && int(w/4) <= 2*m.Half && at >= 2*m.Half {
+			after.Cards[(at+1+field-2*m.Half)/m.Card] = true
+		}
+	}
+	if err := m.Put(p, field, w); err != want || !same(m, &after) {
+		t.Fatalf("Put %#x %d %#x: %v, want %v", p, field, w, err, want)
+	}
+	return want
+}
+
+// P85: behind each call the memory checks.
+func TestActs(t *testing.T) {
+	r := rand.New(rand.NewSource(9))
+	told := map[error]int{}
+	for seed := range 2000 {
+		m := made.Memory(seed)
+		for range 40 {
+			told[act(t, r, m)]++
+			if err := m.Check(); err != nil || right(m) != nil {
+				t.Fatal(seed, err)
+			}
+		}
+	}
+	for _, err := range []error{nil, api.ErrBound, api.ErrShape, api.ErrFull, api.ErrPlace} {
+		if told[err] < 500 {
+			t.Error(err, told[err])
+		}
+	}
+}
+
+// moved: the same objects in other places: in the other half, in another order, some of the nursery's in an old space
+// that is greater.
+func moved(r *rand.Rand, m *mem.Memory) *mem.Memory {
+	l := things(m)
+	c := &mem.Memory{Half: m.Half + r.Intn(9), Old: m.Old + m.Top + r.Intn(9), Card: 1 + r.Intn(12), Used: 1 - m.Used}
+	c.W = make([]api.Word, 2*c.Half+c.Old)
+	c.Cards = slices.Repeat([]bool{true}, (c.Old+c.Card-1)/c.Card)
+	var places []int
+	for at := range l {
+		places = append(places, at)
+	}
+	sort.Ints(places)
+	r.Shuffle(len(places), func(i, j int) { places[i], places[j] = places[j], places[i] })
+	to := map[int]int{}
+	for _, at := range places {
+		size := 1 + len(l[at].fields)
+		if c.Top+size <= c.Half && r.Intn(2) == 0 {
+			to[at] = c.Used*c.Half + c.Top
+			c.Top += size
+		} else {
+			to[at] = 2*c.Half + c.OldTop
+			c.OldTop += size
+		}
+	}
+	follow := func(w api.Word) api.Word {
+		if w%4 == 0 && w > 0 {
+			return ptr(to[int(w/4)-1])
+		}
+		return w
+	}
+	for at, x := range l {
+		c.W[to[at]] = head(x.kind, len(x.fields))
+		for i, w := range x.fields {
+			if x.kind > 7 {
+				w = follow(w)
+			}
+			c.W[to[at]+1+i] = w
+		}
+	}
+	for _, w := range m.Roots {
+		c.Roots = append(c.Roots, follow(w))
+	}
+	for _, w := range m.Weak {
+		c.Weak = append(c.Weak, follow(w))
+	}
+	for _, id := range m.IDs {
+		c.IDs = append([]mem.ID{{At: follow(id.At), Serial: id.Serial}}, c.IDs...)
+	}
+	return c
+}
+
+// P85: wherever the objects lie, the graph is the same, and nothing can be told by what is reached.
+func TestMoved(t *testing.T) {
+	r := rand.New(rand.NewSource(10))
+	for seed := range 2000 {
+		m := made.Memory(seed)
+		c := moved(r, m)
+		if err := c.Check(); err != nil {
+			t.Fatal(seed, err)
+		}
+		for range 5 {
+			s, err := m.Graph()
+			moved, bad := c.Graph()
+			if s != moved || err != nil || bad != nil {
+				t.Fatalf("%d: %v, %v\n%s\nmoved\n%s", seed, err, bad, s, moved)
+			}
+			n, _ := m.Live()
+			if k, err := c.Live(); n != k || err != nil {
+				t.Fatal(seed, n, k, err)
+			}
+			if !putAlong(t, r, m, c) {
+				break
+			}
+		}
+	}
+}
+
+// putAlong puts one root into a field of another one, in two memories: false where there is no root.
+func putAlong(t *testing.T, r *rand.Rand, m, c *mem.Memory) bool {
+	t.Helper()
+	if len(m.Roots) == 0 {
+		return false
+	}
+	to, from, field := r.Intn(len(m.Roots)), r.Intn(len(m.Roots)), r.Intn(3)
+	if one, other := m.Put(m.Roots[to], field, m.Roots[from]), c.Put(c.Roots[to], field, c.Roots[from]); one != other {
+		t.Fatal(one, other)
+	}
+	one, err := m.Get(m.Roots[to], field)
+	other, bad := c.Get(c.Roots[to], field)
+	if err != bad || one%4 != other%4 || one%4 != 0 && one != other {
+		t.Fatal(one, other, err, bad)
+	}
+	return true
+}
+
+// P3: what lies behind a list's length is neither read nor written. P4: nothing that is handed over is kept.
+func TestBehindLengths(t *testing.T) {
+	const behind = 7
+	for seed := range 300 {
+		m := made.Memory(seed)
+		c := m.Copy()
+		c.W = append(c.W, slices.Repeat([]api.Word{3}, behind)...)
+		c.Roots = append(c.Roots, slices.Repeat([]api.Word{3}, behind)...)
+		c.Weak = append(c.Weak, slices.Repeat([]api.Word{3}, behind)...)
+		c.IDs = append(c.IDs, make([]mem.ID, behind)...)
+		c.Cards = append(c.Cards, make([]bool, behind)...)
+		whole := c.Copy()
+		c.W, c.Roots, c.Weak = c.W[:len(m.W)], c.Roots[:len(m.Roots)], c.Weak[:len(m.Weak)]
+		c.IDs, c.Cards = c.IDs[:len(m.IDs)], c.Cards[:len(m.Cards)]
+		fields := []api.Word{none, small(1), 3, 3}[:2]
+		p, err := m.Alloc(8, fields)
+		q, bad := c.Alloc(8, fields)
+		if p != q || err != bad || !same(m, c) || !slices.Equal(fields[:4], []api.Word{none, small(1), 3, 3}) {
+			t.Fatal(seed, p, q, err, bad)
+		}
+		s, _ := m.Graph()
+		if got, err := c.Graph(); got != s || err != nil {
+			t.Fatal(seed, err)
+		}
+		if !same(c.Copy(), m) {
+			t.Fatal(seed, "a copy reads behind a length")
+		}
+		n := len(m.W)
+		if !slices.Equal(c.W[n:n+behind], whole.W[n:]) || !slices.Equal(c.Roots[:len(whole.Roots)], whole.Roots) || !slices.Equal(c.Weak[:len(whole.Weak)], whole.Weak) || !slices.Equal(c.IDs[:len(whole.IDs)], whole.IDs) || !slices.Equal(c.Cards[:len(whole.Cards)], whole.Cards) {
+			t.Fatal(seed, "written behind a length")
+		}
+	}
+}
+
+// P2: who works side by side, on memories of their own or reading one, is told the same.
+func TestSideBySide(t *testing.T) {
+	shared := made.Memory(3)
+	want, _ := graph(shared)
+	var wait sync.WaitGroup
+	for i := range 8 {
+		wait.Go(func() {
+			for seed := range 100 {
+				m := made.Memory(seed)
+				text, live := graph(m)
+				s, err := m.Graph()
+				n, bad := m.Copy().Live()
+				if s != text || n != live || err != nil || bad != nil {
+					t.Error(i, seed, err, bad)
+				}
+				if s, err := shared.Graph(); s != want || err != nil || shared.Check() != nil {
+					t.Error(i, seed, err)
+				}
+			}
+		})
+	}
+	wait.Wait()
+}
