@@ -13,7 +13,7 @@ func (m *Memory) Check() error {
 
 // survey checks a memory, and tells where its objects begin: whoever asks for the check goes on with that.
 func (m *Memory) survey() (heads, error) {
-	if m == nil || !m.measured() {
+	if !m.shaped() {
 		return nil, api.ErrShape
 	}
 	h := make(heads, len(m.W))
@@ -26,10 +26,10 @@ func (m *Memory) survey() (heads, error) {
 	return h, nil
 }
 
-// measured tells whether numbers and lengths fit each other. Numbers that New does not take are none of a memory's:
-// so no sum of them runs over.
-func (m *Memory) measured() bool {
-	return m.bounded() && len(m.W) == m.oldFrom()+m.Old && len(m.Cards) == m.cards() &&
+// shaped tells whether there is a memory whose numbers and lengths fit each other. Numbers that New does not take are
+// none of a memory's: so no sum of them runs over.
+func (m *Memory) shaped() bool {
+	return m != nil && m.bounded() && len(m.W) == m.oldFrom()+m.Old && len(m.Cards) == m.cards() &&
 		within(m.Used, 0, 1) && within(m.Top, 0, m.Half) && within(m.OldTop, 0, m.Old)
 }
 
@@ -42,28 +42,7 @@ func (m *Memory) findHeads(h heads) bool {
 }
 
 func (m *Memory) holdFields(h heads) bool {
-	return m.each(func(at int, o word.Head) bool { return raw(o.Kind) || h.holdAll(m.fields(at, o)) })
-}
-
-// carded tells whether the card of each field of the old space that points into the nursery is marked.
-func (m *Memory) carded() bool {
-	return m.eachOld(func(at int, o word.Head) bool {
-		if raw(o.Kind) {
-			return true
-		}
-		for i, w := range m.fields(at, o) {
-			if m.young(w) && !m.Cards[m.cardOf(at+1+i)] {
-				return false
-			}
-		}
-		return true
-	})
-}
-
-// young tells whether a word points into the nursery.
-func (m *Memory) young(w api.Word) bool {
-	to, err := word.ToAddr(w)
-	return err == nil && to < m.oldFrom()
+	return m.each(func(at int, o word.Head) bool { return Raw(o.Kind) || h.holdAll(m.fields(at, o)) })
 }
 
 // heads tells of each word of a memory whether an object begins there.

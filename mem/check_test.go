@@ -5,6 +5,7 @@ import (
 	"testing"
 
 	"nurserypy/api"
+	"nurserypy/checks/reading"
 	"nurserypy/mem"
 )
 
@@ -275,7 +276,7 @@ func TestCheckedFirst(t *testing.T) {
 		if n, err := m.Live(); n != 0 || err != want {
 			t.Error(n, err)
 		}
-		if !same(m, &whole) {
+		if !reading.Same(m, &whole) {
 			t.Error(want, "changed")
 		}
 	}

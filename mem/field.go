@@ -16,7 +16,7 @@ func (m *Memory) Alloc(kind int, fields []api.Word) (api.Word, error) {
 	switch {
 	case err != nil:
 		return 0, err
-	case !raw(kind) && !h.holdAll(fields):
+	case !Raw(kind) && !h.holdAll(fields):
 		return 0, api.ErrShape
 	case words(o) > m.Half-m.Top:
 		return 0, api.ErrFull
@@ -52,13 +52,11 @@ func (m *Memory) Put(p api.Word, n int, w api.Word) error {
 	switch {
 	case err != nil:
 		return err
-	case raw(kind) || !h.holds(w):
+	case Raw(kind) || !h.holds(w):
 		return api.ErrShape
 	}
 	m.W[at] = w
-	if at >= m.oldFrom() && m.young(w) {
-		m.Cards[m.cardOf(at)] = true
-	}
+	m.Mark(at)
 	return nil
 }
 

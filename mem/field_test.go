@@ -5,6 +5,7 @@ import (
 	"testing"
 
 	"nurserypy/api"
+	"nurserypy/checks/reading"
 	"nurserypy/mem"
 )
 
@@ -90,7 +91,7 @@ func TestAllocShape(t *testing.T) {
 					t.Errorf("%#x: %#x, %v", w, p, err)
 				}
 			}
-			if !same(m, &whole) {
+			if !reading.Same(m, &whole) {
 				t.Errorf("%#x: changed", w)
 			}
 		}
@@ -154,7 +155,7 @@ func TestGet(t *testing.T) {
 			}
 		}
 	}
-	if !same(m, &whole) {
+	if !reading.Same(m, &whole) {
 		t.Error("changed")
 	}
 }
@@ -168,7 +169,7 @@ func TestPut(t *testing.T) {
 			if at == 32 && (w == ptr(12) || w == ptr(15)) {
 				want.Cards[2] = true
 			}
-			if err := m.Put(ptr(at), 0, w); err != nil || !same(m, &want) || m.Check() != nil {
+			if err := m.Put(ptr(at), 0, w); err != nil || !reading.Same(m, &want) || m.Check() != nil {
 				t.Errorf("%d, %#x: %v, %v", at, w, err, m.Check())
 			}
 		}
@@ -207,7 +208,7 @@ func TestPutWrong(t *testing.T) {
 			}
 		}
 	}
-	if !same(m, &whole) {
+	if !reading.Same(m, &whole) {
 		t.Error("changed")
 	}
 }
@@ -249,7 +250,7 @@ func TestPutYoung(t *testing.T) {
 		t.Error(err)
 	}
 	want := &mem.Memory{Half: 6, Old: 6, Card: 1, W: []api.Word{head(8, 1), b, head(8, 1), a, 17: 0}, Top: 4, Cards: make([]bool, 6)}
-	if !same(m, want) {
+	if !reading.Same(m, want) {
 		t.Error(m)
 	}
 }

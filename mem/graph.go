@@ -80,7 +80,7 @@ func (m *Memory) reach(h heads) graph {
 
 // eachField hands the fields to do, one by one, unless they are raw.
 func (o object) eachField(do func(w api.Word)) {
-	if raw(o.kind) {
+	if Raw(o.kind) {
 		return
 	}
 	for _, w := range o.fields {
@@ -102,7 +102,7 @@ func (g graph) known(l []ID) []ID {
 
 func (g graph) tellFields(o object) []string {
 	tell := g.tell
-	if raw(o.kind) {
+	if Raw(o.kind) {
 		tell = tellRaw
 	}
 	out := make([]string, len(o.fields))

@@ -2,11 +2,11 @@ package mem_test
 
 import (
 	"math"
-	"reflect"
 	"testing"
 
 	"nurserypy/api"
 	"nurserypy/checks/made"
+	"nurserypy/checks/reading"
 	"nurserypy/mem"
 )
 
@@ -53,11 +53,7 @@ func lay(m *mem.Memory, kind int, fields ...api.Word) api.Word {
 	return ptr(at)
 }
 
-// same: whether two memories have the same in all fields; a nil list and an empty one are one thing (P3).
-func same(a, b *mem.Memory) bool {
-	return reflect.DeepEqual(plainly(a), plainly(b))
-}
-
+// plainly: a memory as it is now, made without Copy.
 func plainly(m *mem.Memory) mem.Memory {
 	c := *m
 	c.W = append([]api.Word{}, m.W...)
@@ -79,7 +75,7 @@ func TestNew(t *testing.T) {
 			continue
 		}
 		want := &mem.Memory{Half: c.half, Old: c.old, Card: c.card, W: make([]api.Word, 2*c.half+c.old), Cards: make([]bool, c.cards)}
-		if !same(m, want) || m.Check() != nil {
+		if !reading.Same(m, want) || m.Check() != nil {
 			t.Errorf("%v: %d words, %d cards, %v", c, len(m.W), len(m.Cards), m.Check())
 		}
 		if n, err := m.Live(); n != 0 || err != nil {
@@ -109,7 +105,7 @@ func TestNewIsNew(t *testing.T) {
 	a, b := fresh(t, 4, 4, 1), fresh(t, 4, 4, 1)
 	alloc(t, a, 8, none)
 	a.Cards[0] = true
-	if !same(b, fresh(t, 4, 4, 1)) {
+	if !reading.Same(b, fresh(t, 4, 4, 1)) {
 		t.Error("two memories share words or cards")
 	}
 }
@@ -118,7 +114,7 @@ func TestCopy(t *testing.T) {
 	for seed := range 200 {
 		m := made.Memory(seed)
 		c := m.Copy()
-		if !same(m, c) || c == m {
+		if !reading.Same(m, c) || c == m {
 			t.Fatal(seed, "a copy is not the same")
 		}
 		whole := plainly(m)
@@ -139,7 +135,7 @@ func TestCopy(t *testing.T) {
 		}
 		c.Roots, c.Weak, c.IDs = append(c.Roots, 1), append(c.Weak, 1), append(c.IDs, mem.ID{})
 		c.Half, c.Old, c.Card, c.Used, c.Top, c.OldTop = 0, 0, 0, 0, 0, 0
-		if !same(m, &whole) {
+		if !reading.Same(m, &whole) {
 			t.Fatal(seed, "a copy shares with what it was made of")
 		}
 	}
@@ -152,7 +148,7 @@ func TestCopyOfAny(t *testing.T) {
 		t.Error(c)
 	}
 	for _, m := range []*mem.Memory{{}, {Half: -3, Top: 7, Roots: []api.Word{3}}, {Used: 9, W: []api.Word{1, 2}, Cards: []bool{true}, IDs: []mem.ID{{Serial: -1}}}} {
-		if c := m.Copy(); !same(m, c) {
+		if c := m.Copy(); !reading.Same(m, c) {
 			t.Errorf("%v: %v", m, c)
 		}
 	}

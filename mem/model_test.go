@@ -1,7 +1,6 @@
 package mem_test
 
 import (
-	"fmt"
 	"math/rand"
 	"slices"
 	"sort"
@@ -11,170 +10,36 @@ import (
 
 	"nurserypy/api"
 	"nurserypy/checks/made"
+	"nurserypy/checks/reading"
 	"nurserypy/mem"
 )
-
-// What follows is a second reading of P80 to P84, from the memory's words alone.
-
-type thing struct {
-	kind, age int
-	fields    []api.Word
-}
-
-// things: the objects of a memory by where they begin; nil if the used parts are not objects.
-func things(m *mem.Memory) map[int]thing {
-	out := map[int]thing{}
-	for _, part := range [][3]int{{m.Used * m.Half, m.Top, 15}, {2 * m.Half, m.OldTop, 0}} {
-		left := part[1]
-		for at := part[0]; left > 0; {
-			w := m.W[at]
-			size, kind, age := int(w/65536), int(w/4%256), int(w/1024%16)
-			if w%4 != 3 || w/16384%4 != 0 || w/65536 > 4096 || age > part[2] || size+1 > left {
-				return nil
-			}
-			out[at] = thing{kind, age, m.W[at+1 : at+1+size]}
-			at, left = at+1+size, left-1-size
-		}
-	}
-	return out
-}
-
-// may: whether a word may be a field, where these things are.
-func may(l map[int]thing, w api.Word) bool {
-	_, there := l[int(w/4)-1]
-	return w == 0 || w%4 == 0 && there || w%4 == 1 || w == 2 || w == 6 || w == 10
-}
-
-func right(m *mem.Memory) error {
-	if m.Half < 1 || m.Half > 65536 || m.Old < 1 || m.Old > 65536 || m.Card < 1 || m.Card > 1024 || m.Used < 0 || m.Used > 1 {
-		return api.ErrShape
-	}
-	if cards := len(m.Cards); cards*m.Card < m.Old || (cards-1)*m.Card >= m.Old {
-		return api.ErrShape
-	}
-	if len(m.W) != m.Half+m.Half+m.Old || m.Top < 0 || m.Top > m.Half || m.OldTop < 0 || m.OldTop > m.Old {
-		return api.ErrShape
-	}
-	l := things(m)
-	if l == nil {
-		return api.ErrShape
-	}
-	words := slices.Concat(m.Roots, m.Weak)
-	var answer error
-	for at, x := range l {
-		if x.kind > 7 {
-			words = append(words, x.fields...)
-		}
-		for i, w := range x.fields {
-			if x.kind > 7 && at >= m.Half+m.Half && w%4 == 0 && w > 0 && w/4 <= api.Word(2*m.Half) && !m.Cards[(at+1+i-2*m.Half)/m.Card] {
-				answer = api.ErrPlace
-			}
-		}
-	}
-	for i, id := range m.IDs {
-		if _, there := l[int(id.At/4)-1]; id.At%4 != 0 || !there || id.Serial <= 0 {
-			return api.ErrShape
-		}
-		for _, other := range m.IDs[:i] {
-			if other.At == id.At || other.Serial == id.Serial {
-				return api.ErrShape
-			}
-		}
-	}
-	for _, w := range words {
-		if !may(l, w) {
-			return api.ErrShape
-		}
-	}
-	return answer
-}
-
-// graph: P83's text, and P84's number.
-func graph(m *mem.Memory) (string, int) {
-	l := things(m)
-	var order []int
-	number := func(w api.Word) int { return slices.Index(order, int(w/4)-1) }
-	tell := func(w api.Word) string {
-		switch {
-		case w == 0:
-			return "nowhere"
-		case w%4 == 1:
-			return fmt.Sprint(int64(w) >> 2)
-		case w%4 == 2:
-			return []string{"none", "false", "true"}[w/4]
-		case number(w) < 0:
-			return "@"
-		}
-		return fmt.Sprint("@", number(w))
-	}
-	come := func(words []api.Word) {
-		for _, w := range words {
-			if w%4 == 0 && w > 0 && number(w) < 0 {
-				order = append(order, int(w/4)-1)
-			}
-		}
-	}
-	come(m.Roots)
-	for i := 0; i < len(order); i++ {
-		if x := l[order[i]]; x.kind > 7 {
-			come(x.fields)
-		}
-	}
-	text, live := "", 0
-	for _, w := range m.Roots {
-		text += fmt.Sprintf("root %s\n", tell(w))
-	}
-	for i, at := range order {
-		text += fmt.Sprintf("%d %d", i, l[at].kind)
-		for _, w := range l[at].fields {
-			if l[at].kind < 8 {
-				text += fmt.Sprintf(" 0x%016x", w)
-			} else {
-				text += " " + tell(w)
-			}
-		}
-		text += "\n"
-		live += len(l[at].fields) + 1
-	}
-	for _, w := range m.Weak {
-		text += fmt.Sprintf("weak %s\n", tell(w))
-	}
-	ids := slices.Clone(m.IDs)
-	sort.Slice(ids, func(i, j int) bool { return ids[i].Serial < ids[j].Serial })
-	for _, id := range ids {
-		if number(id.At) >= 0 {
-			text += fmt.Sprintf("id %d %s\n", id.Serial, tell(id.At))
-		}
-	}
-	return text, live
-}
 
 func TestMadeUp(t *testing.T) {
 	objects, deep := 0, 0
 	for seed := range 5000 {
 		m := made.Memory(seed)
 		whole := plainly(m)
-		if err := m.Check(); err != nil || right(m) != nil {
-			t.Fatal(seed, err, right(m))
+		if err := m.Check(); err != nil || reading.Right(m) != nil {
+			t.Fatal(seed, err, reading.Right(m))
 		}
-		text, live := graph(m)
+		text, live := reading.Graph(m)
 		if s, err := m.Graph(); s != text || err != nil {
 			t.Fatalf("%d: %v\n%s\nwant\n%s", seed, err, s, text)
 		}
 		if n, err := m.Live(); n != live || err != nil {
 			t.Fatal(seed, n, live, err)
 		}
-		for at, x := range things(m) {
-			for i, w := range x.fields {
+		for at, x := range reading.Things(m) {
+			for i, w := range x.Fields {
 				if got, err := m.Get(ptr(at), i); got != w || err != nil {
 					t.Fatal(seed, at, i, got, w, err)
 				}
 			}
 		}
-		if !same(m, &whole) {
+		if !reading.Same(m, &whole) {
 			t.Fatal(seed, "changed")
 		}
-		objects += len(things(m))
+		objects += len(reading.Things(m))
 		deep += strings.Count(text, "\n")
 	}
 	if objects < 50000 || deep < 30000 {
@@ -252,7 +117,7 @@ func TestSpoilt(t *testing.T) {
 			spoil(r, m)
 		}
 		whole := plainly(m)
-		want := right(m)
+		want := reading.Right(m)
 		told[want]++
 		if err := m.Check(); err != want {
 			t.Fatalf("%d: %v, want %v\n%v", seed, err, want, m)
@@ -262,7 +127,7 @@ func TestSpoilt(t *testing.T) {
 		if want != nil && (s != "" || n != 0) || err != want || bad != want {
 			t.Fatal(seed, s, n, err, bad, want)
 		}
-		if !same(m, &whole) {
+		if !reading.Same(m, &whole) {
 			t.Fatal(seed, "changed")
 		}
 	}
@@ -274,7 +139,7 @@ func TestSpoilt(t *testing.T) {
 // act: one call of P82 with whatever is handed to it; what must be answered, and what the memory must be then.
 func act(t *testing.T, r *rand.Rand, m *mem.Memory) error {
 	t.Helper()
-	l := things(m)
+	l := reading.Things(m)
 	word := func() api.Word {
 		if r.Intn(3) == 0 {
 			return []api.Word{nowhere, none, trueWord, small(-9), 14, 3, ptr(len(m.W)), ptr(m.Top), r.Uint64()}[r.Intn(9)]
@@ -283,7 +148,7 @@ func act(t *testing.T, r *rand.Rand, m *mem.Memory) error {
 	}
 	good := func() api.Word {
 		for {
-			if w := word(); may(l, w) || r.Intn(40) == 0 {
+			if w := word(); reading.May(l, w) || r.Intn(40) == 0 {
 				return w
 			}
 		}
@@ -295,7 +160,7 @@ func act(t *testing.T, r *rand.Rand, m *mem.Memory) error {
 		var want error
 		for i := range fields {
 			fields[i] = good()
-			if kind > 7 && !may(l, fields[i]) {
+			if kind > 7 && !reading.May(l, fields[i]) {
 				want = api.ErrShape
 			}
 		}
@@ -310,7 +175,7 @@ func act(t *testing.T, r *rand.Rand, m *mem.Memory) error {
 			after.Top += 1 + len(fields)
 		}
 		p, err := m.Alloc(kind, fields)
-		if err != want || want == nil && p != ptr(at) || want != nil && p != 0 || !same(m, &after) {
+		if err != want || want == nil && p != ptr(at) || want != nil && p != 0 || !reading.Same(m, &after) {
 			t.Fatalf("Alloc %d %v: %#x, %v, want %v", kind, fields, p, err, want)
 		}
 		return want
@@ -322,16 +187,16 @@ func act(t *testing.T, r *rand.Rand, m *mem.Memory) error {
 	switch {
 	case !there || p%4 != 0:
 		want = api.ErrPlace
-	case field < 0 || field >= len(x.fields):
+	case field < 0 || field >= len(x.Fields):
 		want = api.ErrBound
 	}
 	got, err := m.Get(p, field)
-	if err != want || want != nil && got != 0 || want == nil && got != x.fields[field] || !same(m, &after) {
+	if err != want || want != nil && got != 0 || want == nil && got != x.Fields[field] || !reading.Same(m, &after) {
 		t.Fatalf("Get %#x %d: %#x, %v, want %v", p, field, got, err, want)
 	}
 	switch {
 	case want != nil:
-	case x.kind < 8 || !may(l, w):
+	case x.Kind < 8 || !reading.May(l, w):
 		want = api.ErrShape
 	default:
 		after.W[at+1+field] = w
@@ -339,7 +204,7 @@ func act(t *testing.T, r *rand.Rand, m *mem.Memory) error {
 			after.Cards[(at+1+field-2*m.Half)/m.Card] = true
 		}
 	}
-	if err := m.Put(p, field, w); err != want || !same(m, &after) {
+	if err := m.Put(p, field, w); err != want || !reading.Same(m, &after) {
 		t.Fatalf("Put %#x %d %#x: %v, want %v", p, field, w, err, want)
 	}
 	return want
@@ -353,7 +218,7 @@ func TestActs(t *testing.T) {
 		m := made.Memory(seed)
 		for range 40 {
 			told[act(t, r, m)]++
-			if err := m.Check(); err != nil || right(m) != nil {
+			if err := m.Check(); err != nil || reading.Right(m) != nil {
 				t.Fatal(seed, err)
 			}
 		}
@@ -368,7 +233,7 @@ func TestActs(t *testing.T) {
 // moved: the same objects in other places: in the other half, in another order, some of the nursery's in an old space
 // that is greater.
 func moved(r *rand.Rand, m *mem.Memory) *mem.Memory {
-	l := things(m)
+	l := reading.Things(m)
 	c := &mem.Memory{Half: m.Half + r.Intn(9), Old: m.Old + m.Top + r.Intn(9), Card: 1 + r.Intn(12), Used: 1 - m.Used}
 	c.W = make([]api.Word, 2*c.Half+c.Old)
 	c.Cards = slices.Repeat([]bool{true}, (c.Old+c.Card-1)/c.Card)
@@ -380,7 +245,7 @@ func moved(r *rand.Rand, m *mem.Memory) *mem.Memory {
 	r.Shuffle(len(places), func(i, j int) { places[i], places[j] = places[j], places[i] })
 	to := map[int]int{}
 	for _, at := range places {
-		size := 1 + len(l[at].fields)
+		size := 1 + len(l[at].Fields)
 		if c.Top+size <= c.Half && r.Intn(2) == 0 {
 			to[at] = c.Used*c.Half + c.Top
 			c.Top += size
@@ -396,9 +261,9 @@ func moved(r *rand.Rand, m *mem.Memory) *mem.Memory {
 		return w
 	}
 	for at, x := range l {
-		c.W[to[at]] = head(x.kind, len(x.fields))
-		for i, w := range x.fields {
-			if x.kind > 7 {
+		c.W[to[at]] = head(x.Kind, len(x.Fields))
+		for i, w := range x.Fields {
+			if x.Kind > 7 {
 				w = follow(w)
 			}
 			c.W[to[at]+1+i] = w
@@ -477,14 +342,14 @@ func TestBehindLengths(t *testing.T) {
 		fields := []api.Word{none, small(1), 3, 3}[:2]
 		p, err := m.Alloc(8, fields)
 		q, bad := c.Alloc(8, fields)
-		if p != q || err != bad || !same(m, c) || !slices.Equal(fields[:4], []api.Word{none, small(1), 3, 3}) {
+		if p != q || err != bad || !reading.Same(m, c) || !slices.Equal(fields[:4], []api.Word{none, small(1), 3, 3}) {
 			t.Fatal(seed, p, q, err, bad)
 		}
 		s, _ := m.Graph()
 		if got, err := c.Graph(); got != s || err != nil {
 			t.Fatal(seed, err)
 		}
-		if !same(c.Copy(), m) {
+		if !reading.Same(c.Copy(), m) {
 			t.Fatal(seed, "a copy reads behind a length")
 		}
 		n := len(m.W)
@@ -497,13 +362,13 @@ func TestBehindLengths(t *testing.T) {
 // P2: who works side by side, on memories of their own or reading one, is told the same.
 func TestSideBySide(t *testing.T) {
 	shared := made.Memory(3)
-	want, _ := graph(shared)
+	want, _ := reading.Graph(shared)
 	var wait sync.WaitGroup
 	for i := range 8 {
 		wait.Go(func() {
 			for seed := range 100 {
 				m := made.Memory(seed)
-				text, live := graph(m)
+				text, live := reading.Graph(m)
 				s, err := m.Graph()
 				n, bad := m.Copy().Live()
 				if s != text || n != live || err != nil || bad != nil {
