@@ -94,8 +94,8 @@ func TestMarkOfAny(t *testing.T) {
 	r := rand.New(rand.NewSource(11))
 	for seed := range 20000 {
 		m := made.Memory(seed % 2000)
-		spoil(r, m)
-		spoil(r, m)
+		made.Spoil(m, 2*seed)
+		made.Spoil(m, 2*seed+1)
 		for _, at := range m.Marked() {
 			if at < 2*m.Half || at >= len(m.W) {
 				t.Fatal(seed, at)

@@ -48,6 +48,19 @@ func (m *Memory) Live() (int, error) {
 	return n, nil
 }
 
+// Reached tells where the objects begin that can be come to from Roots, in the order in which they are come to first.
+func (m *Memory) Reached() ([]int, error) {
+	h, err := m.survey()
+	if err != nil {
+		return nil, err
+	}
+	var out []int
+	for _, o := range m.reach(h).objects {
+		out = append(out, o.at)
+	}
+	return out, nil
+}
+
 // graph is what can be come to: objects in the order in which they are come to first, and their numbers.
 type graph struct {
 	objects []object
@@ -55,8 +68,8 @@ type graph struct {
 }
 
 type object struct {
-	kind   int
-	fields []api.Word
+	at, kind int
+	fields   []api.Word
 }
 
 // reach goes from Roots to all that can be come to.
@@ -66,7 +79,7 @@ func (m *Memory) reach(h heads) graph {
 		at, o, ok := m.object(h, w)
 		if _, known := g.numbers[w]; ok && !known {
 			g.numbers[w] = len(g.objects)
-			g.objects = append(g.objects, object{o.Kind, m.fields(at, o)})
+			g.objects = append(g.objects, object{at, o.Kind, m.fields(at, o)})
 		}
 	}
 	for _, w := range m.Roots {

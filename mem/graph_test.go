@@ -2,6 +2,7 @@ package mem_test
 
 import (
 	"math"
+	"slices"
 	"strings"
 	"testing"
 
@@ -58,6 +59,30 @@ id 9 @0
 		if n, err := m.Live(); n != c.live || err != nil {
 			t.Errorf("%d: %d live, %v", i, n, err)
 		}
+	}
+}
+
+// Objects are told where they are come to first, each once, wherever they lie.
+func TestReached(t *testing.T) {
+	m := laid(t)
+	for i, c := range []struct{ roots, want []int }{
+		{nil, nil}, {[]int{28}, []int{28}}, {[]int{32, 31, 32, 28}, []int{32, 31, 28, 24, 12}}, {[]int{12, 32}, []int{12, 32, 24}},
+	} {
+		m.Roots = []api.Word{none, small(3), nowhere}
+		for _, at := range c.roots {
+			m.Roots = append(m.Roots, ptr(at), trueWord)
+		}
+		if l, err := m.Reached(); !slices.Equal(l, c.want) || err != nil {
+			t.Error(i, l, err)
+		}
+	}
+	m.Roots = []api.Word{ptr(13)}
+	if l, err := m.Reached(); len(l) > 0 || err != api.ErrShape {
+		t.Error(l, err)
+	}
+	m = nil
+	if l, err := m.Reached(); len(l) > 0 || err != api.ErrShape {
+		t.Error(l, err)
 	}
 }
 

@@ -29,6 +29,9 @@ func TestMadeUp(t *testing.T) {
 		if n, err := m.Live(); n != live || err != nil {
 			t.Fatal(seed, n, live, err)
 		}
+		if l, err := m.Reached(); !slices.Equal(l, reading.Reached(m)) || err != nil {
+			t.Fatal(seed, l, reading.Reached(m), err)
+		}
 		for at, x := range reading.Things(m) {
 			for i, w := range x.Fields {
 				if got, err := m.Get(ptr(at), i); got != w || err != nil {
@@ -47,74 +50,12 @@ func TestMadeUp(t *testing.T) {
 	}
 }
 
-// spoil changes something of a memory, whatever.
-func spoil(r *rand.Rand, m *mem.Memory) {
-	near := func(n int) int { return n + r.Intn(5) - 2 }
-	word := func() api.Word {
-		switch r.Intn(5) {
-		case 0:
-			return ptr(r.Intn(len(m.W) + 3))
-		case 1:
-			return head(r.Intn(256), r.Intn(4)) | api.Word(r.Intn(8))<<12
-		case 2:
-			return api.Word(r.Intn(20))
-		case 3:
-			return r.Uint64()
-		}
-		return m.W[r.Intn(len(m.W))]
-	}
-	pick := func(l []api.Word) {
-		if len(l) > 0 {
-			l[r.Intn(len(l))] = word()
-		}
-	}
-	switch r.Intn(16) {
-	case 0:
-		m.Half = near(m.Half)
-	case 1:
-		m.Old = near(m.Old)
-	case 2:
-		m.Card = near(m.Card)
-	case 3:
-		m.Used = near(m.Used)
-	case 4:
-		m.Top = near(m.Top)
-	case 5:
-		m.OldTop = near(m.OldTop)
-	case 6:
-		pick(m.Roots)
-	case 7:
-		pick(m.Weak)
-	case 8:
-		if len(m.IDs) > 0 {
-			m.IDs[r.Intn(len(m.IDs))].At = word()
-		}
-	case 9:
-		if len(m.IDs) > 0 {
-			i := r.Intn(len(m.IDs))
-			m.IDs[i].Serial = near(m.IDs[i].Serial)
-		}
-	case 10, 11:
-		if len(m.Cards) > 0 {
-			m.Cards[r.Intn(len(m.Cards))] = false
-		}
-	case 12:
-		m.W = append(m.W, word())
-	case 13:
-		i := r.Intn(len(m.W))
-		m.W[i] ^= 1 << r.Intn(64)
-	default:
-		m.W[r.Intn(len(m.W))] = word()
-	}
-}
-
 func TestSpoilt(t *testing.T) {
-	r := rand.New(rand.NewSource(8))
 	told := map[error]int{}
 	for seed := range 40000 {
 		m := made.Memory(seed % 2000)
-		for range 1 + r.Intn(2) {
-			spoil(r, m)
+		for i := range 1 + seed%2 {
+			made.Spoil(m, 2*seed+i)
 		}
 		whole := plainly(m)
 		want := reading.Right(m)
@@ -126,6 +67,9 @@ func TestSpoilt(t *testing.T) {
 		n, bad := m.Live()
 		if want != nil && (s != "" || n != 0) || err != want || bad != want {
 			t.Fatal(seed, s, n, err, bad, want)
+		}
+		if l, err := m.Reached(); want != nil && len(l) > 0 || err != want {
+			t.Fatal(seed, l, err, want)
 		}
 		if !reading.Same(m, &whole) {
 			t.Fatal(seed, "changed")
@@ -327,18 +271,9 @@ func putAlong(t *testing.T, r *rand.Rand, m, c *mem.Memory) bool {
 
 // P3: what lies behind a list's length is neither read nor written. P4: nothing that is handed over is kept.
 func TestBehindLengths(t *testing.T) {
-	const behind = 7
 	for seed := range 300 {
 		m := made.Memory(seed)
-		c := m.Copy()
-		c.W = append(c.W, slices.Repeat([]api.Word{3}, behind)...)
-		c.Roots = append(c.Roots, slices.Repeat([]api.Word{3}, behind)...)
-		c.Weak = append(c.Weak, slices.Repeat([]api.Word{3}, behind)...)
-		c.IDs = append(c.IDs, make([]mem.ID, behind)...)
-		c.Cards = append(c.Cards, make([]bool, behind)...)
-		whole := c.Copy()
-		c.W, c.Roots, c.Weak = c.W[:len(m.W)], c.Roots[:len(m.Roots)], c.Weak[:len(m.Weak)]
-		c.IDs, c.Cards = c.IDs[:len(m.IDs)], c.Cards[:len(m.Cards)]
+		c, untouched := made.Longer(m)
 		fields := []api.Word{none, small(1), 3, 3}[:2]
 		p, err := m.Alloc(8, fields)
 		q, bad := c.Alloc(8, fields)
@@ -352,8 +287,7 @@ func TestBehindLengths(t *testing.T) {
 		if !reading.Same(c.Copy(), m) {
 			t.Fatal(seed, "a copy reads behind a length")
 		}
-		n := len(m.W)
-		if !slices.Equal(c.W[n:n+behind], whole.W[n:]) || !slices.Equal(c.Roots[:len(whole.Roots)], whole.Roots) || !slices.Equal(c.Weak[:len(whole.Weak)], whole.Weak) || !slices.Equal(c.IDs[:len(whole.IDs)], whole.IDs) || !slices.Equal(c.Cards[:len(whole.Cards)], whole.Cards) {
+		if !untouched() {
 			t.Fatal(seed, "written behind a length")
 		}
 	}

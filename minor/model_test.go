@@ -236,33 +236,13 @@ func TestMadeUp(t *testing.T) {
 	}
 }
 
-// spoil changes one thing, whatever.
-func spoil(r *rand.Rand, m *mem.Memory) {
-	near := []*int{&m.Half, &m.Old, &m.Card, &m.Used, &m.Top, &m.OldTop}
-	switch k := r.Intn(12); {
-	case k < len(near):
-		*near[k] += r.Intn(5) - 2
-	case k < 8:
-		m.W[r.Intn(len(m.W))] = []api.Word{r.Uint64(), head(r.Intn(256), r.Intn(5)), ptr(r.Intn(len(m.W) + 1))}[r.Intn(3)]
-	case k < 9 && len(m.Roots) > 0:
-		m.Roots[r.Intn(len(m.Roots))] = ptr(r.Intn(len(m.W) + 1))
-	case k < 10 && len(m.Weak) > 0:
-		m.Weak[r.Intn(len(m.Weak))] = api.Word(r.Intn(40))
-	case k < 11 && len(m.IDs) > 0:
-		m.IDs[r.Intn(len(m.IDs))] = mem.ID{At: ptr(r.Intn(len(m.W))), Serial: r.Intn(4)}
-	default:
-		m.Cards[r.Intn(len(m.Cards))] = false
-	}
-}
-
 // P91: whatever is wrong with a memory is told as Check tells it, and nothing is done; what is right still is collected.
 func TestSpoilt(t *testing.T) {
-	r := rand.New(rand.NewSource(9))
 	told := map[error]int{}
 	for seed := range 20000 {
 		m := made.Memory(seed % 3000)
-		spoil(r, m)
-		tenure := r.Intn(16)
+		made.Spoil(m, seed)
+		tenure := seed % 16
 		want := reading.Right(m)
 		if want == nil && m.Top > m.Old-m.OldTop {
 			want = api.ErrFull
@@ -281,37 +261,6 @@ func TestSpoilt(t *testing.T) {
 	}
 }
 
-// step does something to a memory, between two collections: what leads from roots is what changes.
-func step(t *testing.T, r *rand.Rand, m *mem.Memory) {
-	t.Helper()
-	value := func() api.Word {
-		if r.Intn(4) == 0 {
-			return []api.Word{none, nowhere, trueWord, small(int64(r.Intn(9)))}[r.Intn(4)]
-		}
-		return m.Roots[r.Intn(len(m.Roots))]
-	}
-	root := &m.Roots[r.Intn(len(m.Roots))]
-	switch r.Intn(8) {
-	case 0:
-		*root = value()
-	case 1:
-		m.Weak = append(m.Weak, value())
-	case 2, 3:
-		if err := m.Put(*root, r.Intn(3), value()); err == api.ErrFull {
-			t.Fatal(err)
-		}
-	case 4:
-		if w, err := m.Get(*root, r.Intn(3)); err == nil && reading.May(reading.Things(m), w) {
-			*root = w
-		}
-	default:
-		fields := []api.Word{value(), value(), value()}[:r.Intn(4)]
-		if p, err := m.Alloc([]int{8, 9, 5}[r.Intn(3)], fields); err == nil {
-			*root = p
-		}
-	}
-}
-
 // Long lives: objects are made, hang on each other, are let go, and grow old, until there is no room.
 func TestLives(t *testing.T) {
 	r := rand.New(rand.NewSource(10))
@@ -322,7 +271,7 @@ func TestLives(t *testing.T) {
 		tenure := life % 16
 		for m.Top <= m.Old-m.OldTop && collections < 100*(life+1) {
 			for range r.Intn(20) {
-				step(t, r, m)
+				made.Step(m, r.Int())
 			}
 			if m.Top <= m.Old-m.OldTop {
 				collect(t, m, tenure)
@@ -337,25 +286,13 @@ func TestLives(t *testing.T) {
 
 // P3: what lies behind a list's length is neither read nor written.
 func TestBehindLengths(t *testing.T) {
-	const behind = 7
 	for seed := range 1000 {
 		m := made.Memory(seed)
-		c := m.Copy()
-		c.W = append(c.W, slices.Repeat([]api.Word{3}, behind)...)
-		c.Roots = append(c.Roots, slices.Repeat([]api.Word{3}, behind)...)
-		c.Weak = append(c.Weak, slices.Repeat([]api.Word{3}, behind)...)
-		c.IDs = append(c.IDs, make([]mem.ID, behind)...)
-		c.Cards = append(c.Cards, make([]bool, behind)...)
-		long := *c
-		c.W, c.Roots, c.Weak = c.W[:len(m.W)], c.Roots[:len(m.Roots)], c.Weak[:len(m.Weak)]
-		c.IDs, c.Cards = c.IDs[:len(m.IDs)], c.Cards[:len(m.Cards)]
-		words, roots, weak, ids, cards := len(m.W), len(m.Roots), len(m.Weak), len(m.IDs), len(m.Cards)
+		c, untouched := made.Longer(m)
 		if one, other := minor.Collect(m, seed%16), minor.Collect(c, seed%16); one != other || !reading.Same(m, c) {
 			t.Fatal(seed, one, other)
 		}
-		three := slices.Repeat([]api.Word{3}, behind)
-		if !slices.Equal(long.W[words:], three) || !slices.Equal(long.Roots[roots:], three) || !slices.Equal(long.Weak[weak:], three) ||
-			!slices.Equal(long.IDs[ids:], make([]mem.ID, behind)) || !slices.Equal(long.Cards[cards:], make([]bool, behind)) {
+		if !untouched() {
 			t.Fatal(seed, "written behind a length")
 		}
 	}

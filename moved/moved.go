@@ -36,11 +36,16 @@ func (p Places) Now(w api.Word) (api.Word, bool) {
 	return now, err == nil
 }
 
+// Follow lets words follow: those whose object went nowhere become None.
+func (p Places) Follow(l []api.Word) {
+	for i, w := range l {
+		l[i], _ = p.Now(w)
+	}
+}
+
 // FollowWeakly lets Weak and IDs of a memory follow, which keep no object where it was.
 func (p Places) FollowWeakly(m *mem.Memory) {
-	for i, w := range m.Weak {
-		m.Weak[i], _ = p.Now(w)
-	}
+	p.Follow(m.Weak)
 	kept := make([]mem.ID, 0, len(m.IDs))
 	for _, id := range m.IDs {
 		if at, ok := p.Now(id.At); ok {

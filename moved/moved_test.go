@@ -31,6 +31,17 @@ func TestNow(t *testing.T) {
 	}
 }
 
+func TestFollow(t *testing.T) {
+	p := moved.Out(0, 20)
+	p.Note(5, 30)
+	l := []api.Word{ptr(5), ptr(6), 0, 6, 21, ptr(20), ptr(5), ptr(5)}
+	p.Follow(l[:7])
+	if want := []api.Word{ptr(30), 2, 0, 6, 21, ptr(20), ptr(30), ptr(5)}; !slices.Equal(l, want) {
+		t.Error(l)
+	}
+	p.Follow(nil)
+}
+
 func TestFollowWeakly(t *testing.T) {
 	p := moved.Out(0, 20)
 	p.Note(5, 30)
