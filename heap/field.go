@@ -1,9 +1,6 @@
 package heap
 
-import (
-	"nurserypy/api"
-	"nurserypy/mem"
-)
+import "nurserypy/api"
 
 // Get a field into a root.
 func (h *Heap) Get(r, field, to int) error {
@@ -33,16 +30,12 @@ func (h *Heap) Put(r, field, from int) error {
 
 // field tells where a field lies of the object that a root points to.
 func (s *store) field(r, n int) (at int, err error) {
-	w, err := s.root(r)
-	if err != nil {
-		return 0, err
-	}
-	at, o, ok := s.object(w)
+	at, size, err := s.made(r)
 	switch {
-	case !ok || mem.Raw(o.Kind):
-		return 0, api.ErrShape
-	case !within(n, 0, o.Size-1):
+	case err != nil:
+		return 0, err
+	case !within(n, 0, size-1):
 		return 0, api.ErrBound
 	}
-	return at + 1 + n, nil
+	return at + n, nil
 }

@@ -4,6 +4,7 @@ import (
 	"errors"
 	"fmt"
 	"math/rand"
+	"slices"
 	"strconv"
 	"strings"
 	"testing"
@@ -137,6 +138,7 @@ func (p *pair) act() error {
 	acts := []func() error{
 		p.makeOne, p.makeOne, p.makeOne, p.makeOne, p.text, p.text, p.number, p.constant, p.copyRoot, p.copyRoot,
 		p.put, p.put, p.put, p.put, p.get, p.get, p.serial, p.weaken, p.weaken, p.look, p.look, p.collect,
+		p.move, p.find, p.resize,
 	}
 	if err := acts[p.r.Intn(len(acts))](); err != nil {
 		return err
@@ -280,6 +282,76 @@ func (p *pair) put() error {
 	return p.tells("put", err, want)
 }
 
+// row: so many fields of what a root holds, or what must be told of it.
+func (p *pair) row(r, from, count int) ([]any, error) {
+	x, ok := p.roots[r].(*thing)
+	switch {
+	case !ok || x.kind < 8:
+		return nil, api.ErrShape
+	case from < 0 || count < 0 || from+count > len(x.fields):
+		return nil, api.ErrBound
+	}
+	return x.fields[from:][:count], nil
+}
+
+func (p *pair) move() error {
+	r, field, other, from, count := p.root(), p.near(3), p.root(), p.near(3), p.near(3)
+	err := p.Move(r, field, other, from, count)
+	if !p.there(r, other) {
+		return p.tells("move", err, api.ErrPlace)
+	}
+	to, want := p.row(r, field, count)
+	l, bad := p.row(other, from, count)
+	if want == nil {
+		want = bad
+	}
+	if want == nil {
+		copy(to, slices.Clone(l))
+	}
+	return p.tells("move", err, want)
+}
+
+func (p *pair) find() error {
+	r, from, count, like := p.root(), p.near(3), p.near(4), p.root()
+	n, err := p.Find(r, from, count, like)
+	if !p.there(r, like) {
+		return errors.Join(p.tells("find", err, api.ErrPlace), p.counts("find", n, 0))
+	}
+	l, want := p.row(r, from, count)
+	if want != nil {
+		return errors.Join(p.tells("find", err, want), p.counts("find", n, 0))
+	}
+	at := slices.IndexFunc(l, func(v any) bool { return alike(v, p.roots[like]) })
+	if at >= 0 {
+		at += from
+	}
+	is, bad := p.Alike(r, like)
+	if bad != nil || is != alike(p.roots[r], p.roots[like]) {
+		return fmt.Errorf("alike: %v, %v", is, bad)
+	}
+	return errors.Join(p.tells("find", err, nil), p.counts("find", n, at))
+}
+
+// alike: the same, or raw ones of which the same is told.
+func alike(v, w any) bool {
+	x, ok := v.(*thing)
+	y, too := w.(*thing)
+	return v == w || ok && too && x.kind < 8 && x.kind == y.kind && x.told == y.told
+}
+
+func (p *pair) resize() error {
+	n := max(0, len(p.roots)+p.r.Intn(3)-1)
+	if n > 12 {
+		return nil
+	}
+	err := p.Resize(n)
+	for len(p.roots) < n {
+		p.roots = append(p.roots, "nowhere")
+	}
+	p.roots = p.roots[:n]
+	return p.tells("resize", err, nil)
+}
+
 // object: what a root holds, or what must be told of it.
 func (p *pair) object(r int) (*thing, error) {
 	if !p.there(r) {
@@ -390,7 +462,7 @@ func TestLives(t *testing.T) {
 			told[what] += n
 		}
 	}
-	for _, what := range strings.Split("make text box int const copy get put serial weak look minor major", " ") {
+	for _, what := range strings.Split("make text box int const copy get put serial weak look minor major move find resize", " ") {
 		if told[what+" <nil>"] < 200 {
 			t.Error(what, told[what+" <nil>"])
 		}

@@ -7,10 +7,17 @@ import (
 	"nurserypy/word"
 )
 
-// Kinds of objects that are raw, and the least kind of those that Make makes.
+// Kinds of objects that are raw: ints that have a box, and texts.
 const (
-	boxKind   = 1
-	textKind  = 2
+	BoxKind  = 1
+	TextKind = 2
+)
+
+// topRoots is how many roots there may be, once a heap is made.
+const topRoots = 64 * api.MaxRoots
+
+// The kinds of objects that Make makes.
+const (
 	firstKind = 8
 	topKind   = 255
 )
@@ -21,7 +28,7 @@ func (h *Heap) Int(r int, n int64) error {
 		if w, err := word.OfInt(n); err == nil {
 			return w, nil
 		}
-		return h.in.lay(boxKind, api.Word(n))
+		return h.in.lay(BoxKind, api.Word(n))
 	})
 }
 
@@ -36,7 +43,7 @@ func (h *Heap) Text(r int, s string) error {
 		if len(s) > api.MaxLength {
 			return 0, api.ErrBound
 		}
-		return h.in.lay(textKind, append([]api.Word{api.Word(len(s))}, word.Bytes(s)...)...)
+		return h.in.lay(TextKind, append([]api.Word{api.Word(len(s))}, word.Bytes(s)...)...)
 	})
 }
 
@@ -53,6 +60,20 @@ func (h *Heap) Make(r, kind, size int) error {
 // Copy a root.
 func (h *Heap) Copy(r, from int) error {
 	return h.in.become(r, func() (api.Word, error) { return h.in.root(from) })
+}
+
+// Resize: from now on there are so many roots; new ones point nowhere. (There may be more than New makes: whoever keeps a
+// stack in them needs as many as it is high.)
+func (h *Heap) Resize(roots int) error {
+	if !within(roots, 0, topRoots) {
+		return api.ErrBound
+	}
+	l := h.in.Roots
+	if more := roots - len(l); more > 0 {
+		l = append(l, make([]api.Word, more)...)
+	}
+	h.in.Roots = l[:roots]
+	return nil
 }
 
 // become lets a root become what is made for it. A collection on the way gives the memory new roots: the root is looked

@@ -26,12 +26,11 @@ func (h *Heap) Show() string {
 // tellRaw tells an int with a box, or a text, that begins at a word: its kind, and what it means.
 func (s *store) tellRaw(at int) (text string, raw bool) {
 	o, _ := word.ToHead(s.W[at])
-	fields := s.W[at+1 : at+1+o.Size]
 	switch o.Kind {
-	case boxKind:
-		text = strconv.FormatInt(int64(fields[0]), 10)
-	case textKind:
-		text, _ = word.Text(fields[1:], int(fields[0]))
+	case BoxKind:
+		text = strconv.FormatInt(int64(s.W[at+1]), 10)
+	case TextKind:
+		text, _ = s.text(at, o)
 		text = lex.Quote(text)
 	default:
 		return "", false

@@ -1,9 +1,8 @@
 package walk
 
 import (
-	"strings"
-
 	"nurserypy/api"
+	"nurserypy/rules"
 )
 
 func (w *walker) call(called any, args []any) any {
@@ -11,20 +10,20 @@ func (w *walker) call(called any, args []any) any {
 	case *function:
 		return w.enter(f, args)
 	case builtin:
-		if n := takes(f); n >= 0 && n != len(args) {
-			panic(raised{typeError})
+		if !rules.Takes(string(f), len(args)) {
+			panic(raised{rules.TypeError})
 		}
 		return w.builtin(f, args)
 	}
-	panic(raised{typeError})
+	panic(raised{rules.TypeError})
 }
 
 func (w *walker) enter(f *function, args []any) any {
 	if len(args) != len(f.params) {
-		panic(raised{typeError})
+		panic(raised{rules.TypeError})
 	}
 	if w.calls == api.MaxCalls {
-		panic(raised{recursionError})
+		panic(raised{rules.RecursionError})
 	}
 	w.step()
 	w.calls++
@@ -41,23 +40,10 @@ func (w *walker) enter(f *function, args []any) any {
 // builtins: the global names that there are from the beginning.
 func builtins() map[string]any {
 	out := map[string]any{}
-	for _, name := range []string{"len", "str", "push", "pop", "keys", "id", "range", "input", "print", "collect"} {
+	for _, name := range rules.Builtins() {
 		out[name] = builtin(name)
 	}
 	return out
-}
-
-// takes: how many arguments; -1: any number.
-func takes(b builtin) int {
-	switch b {
-	case "print":
-		return -1
-	case "input":
-		return 0
-	case "push":
-		return 2
-	}
-	return 1
 }
 
 func (w *walker) builtin(b builtin, args []any) any {
@@ -82,7 +68,7 @@ func (w *walker) builtin(b builtin, args []any) any {
 		w.print(args)
 	case "collect":
 		if n := as[int64](args[0]); n != 0 && n != 1 {
-			panic(raised{valueError})
+			panic(raised{rules.ValueError})
 		}
 	}
 	return nil
@@ -99,7 +85,7 @@ func (w *walker) id(v any) int {
 	case *function:
 		has = &x.id
 	default:
-		panic(raised{typeError})
+		panic(raised{rules.TypeError})
 	}
 	if *has == 0 {
 		w.ids++
@@ -110,19 +96,16 @@ func (w *walker) id(v any) int {
 
 // counted: the list of the ints from 0 on that are below n.
 func counted(n int64) *list {
-	if n > api.MaxLength {
-		panic(raised{overflowError})
-	}
 	out := &list{}
-	for i := range n {
-		out.items = append(out.items, i)
+	for i := range sure(rules.Counted(n)) {
+		out.items = append(out.items, int64(i))
 	}
 	return out
 }
 
 func (w *walker) line() string {
 	if len(w.input) == 0 {
-		panic(raised{valueError})
+		panic(raised{rules.ValueError})
 	}
 	line := w.input[0]
 	w.input = w.input[1:]
@@ -135,9 +118,5 @@ func (w *walker) print(args []any) {
 	for _, v := range args {
 		texts = append(texts, str(v))
 	}
-	line := strings.Join(texts, " ") + "\n"
-	if w.output.Len()+len(line) > api.MaxOutput {
-		panic(raised{overflowError})
-	}
-	w.output.WriteString(line)
+	w.output.WriteString(sure(rules.Line(texts, w.output.Len())))
 }

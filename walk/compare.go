@@ -3,11 +3,13 @@ package walk
 import (
 	"cmp"
 	"strings"
+
+	"nurserypy/rules"
 )
 
-// A comparison remembers which lists and dicts it found equal: they may stand in what is compared more often than could be gone through.
+// A comparison knows what it found equal so far.
 type comparison struct {
-	found map[couple]int // how deep they were
+	rules.Found[couple]
 }
 
 type couple struct {
@@ -22,28 +24,12 @@ func equal(left, right any) bool {
 // equal: lists and dicts are so deep in what is compared.
 func (c *comparison) equal(left, right any, deep int) bool {
 	if x, y, ok := both[*list](left, right); ok {
-		return c.within(couple{x, y}, deep, func() bool { return c.lists(x, y, deep+1) })
+		return sure(c.Equal(couple{x, y}, deep, func() bool { return c.lists(x, y, deep+1) }))
 	}
 	if x, y, ok := both[*dict](left, right); ok {
-		return c.within(couple{x, y}, deep, func() bool { return c.dicts(x, y, deep+1) })
+		return sure(c.Equal(couple{x, y}, deep, func() bool { return c.dicts(x, y, deep+1) }))
 	}
 	return left == right
-}
-
-// within asks what is in two of one kind, if it is not yet known. (Found equal deeper in each other, they are no deeper here; found unlike, there was nothing left to ask.)
-func (c *comparison) within(both couple, deep int, asked func() bool) bool {
-	nest(deep)
-	if deep <= c.found[both] {
-		return true
-	}
-	if !asked() {
-		return false
-	}
-	if c.found == nil {
-		c.found = map[couple]int{}
-	}
-	c.found[both] = deep
-	return true
 }
 
 func (c *comparison) lists(left, right *list, deep int) bool {
@@ -88,7 +74,7 @@ func order(left, right any) int {
 	if x, y, ok := both[string](left, right); ok {
 		return cmp.Compare(x, y)
 	}
-	panic(raised{typeError})
+	panic(raised{rules.TypeError})
 }
 
 // contains: what `in` asks.
@@ -108,5 +94,5 @@ func contains(thing, v any) bool {
 	case string:
 		return strings.Contains(x, as[string](v))
 	}
-	panic(raised{typeError})
+	panic(raised{rules.TypeError})
 }

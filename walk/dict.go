@@ -1,6 +1,10 @@
 package walk
 
-import "slices"
+import (
+	"slices"
+
+	"nurserypy/rules"
+)
 
 // A dict has its keys in the order in which they came, and their values at the same places.
 type dict struct {
@@ -21,7 +25,7 @@ func isKey(v any) bool {
 // find: the place of a key, if it is there.
 func (d *dict) find(key any) (int, bool) {
 	if !isKey(key) {
-		panic(raised{typeError})
+		panic(raised{rules.TypeError})
 	}
 	n, ok := d.places[key]
 	return n, ok
@@ -31,7 +35,7 @@ func (d *dict) find(key any) (int, bool) {
 func (d *dict) must(key any) int {
 	n, ok := d.find(key)
 	if !ok {
-		panic(raised{keyError})
+		panic(raised{rules.KeyError})
 	}
 	return n
 }
@@ -41,7 +45,7 @@ func (d *dict) put(key, value any) {
 		d.values[n] = value
 		return
 	}
-	fits(len(d.keys) + 1)
+	ask(rules.Fits(len(d.keys) + 1))
 	if d.places == nil {
 		d.places = map[any]int{}
 	}

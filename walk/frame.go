@@ -1,5 +1,7 @@
 package walk
 
+import "nurserypy/rules"
+
 // A frame is what a call of a function has for itself; the program's own has no names, for they are global.
 type frame struct {
 	names  map[string]*cell // its locals, cells and free names
@@ -39,13 +41,13 @@ func (f *frame) function(r *recipe) *function {
 func (w *walker) value(name string, f *frame) any {
 	if c, ok := f.names[name]; ok {
 		if !c.has {
-			panic(raised{nameError})
+			panic(raised{rules.NameError})
 		}
 		return c.value
 	}
 	v, ok := w.globals[name]
 	if !ok {
-		panic(raised{nameError})
+		panic(raised{rules.NameError})
 	}
 	return v
 }

@@ -3,6 +3,8 @@ package walk
 import (
 	"iter"
 	"slices"
+
+	"nurserypy/rules"
 )
 
 // How it goes on behind a statement.
@@ -122,5 +124,5 @@ func elements(v any) iter.Seq[any] {
 			}
 		}
 	}
-	panic(raised{typeError})
+	panic(raised{rules.TypeError})
 }

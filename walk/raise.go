@@ -1,20 +1,21 @@
 package walk
 
-// What goes wrong raises one of these.
-const (
-	nameError      = "NameError"
-	typeError      = "TypeError"
-	indexError     = "IndexError"
-	keyError       = "KeyError"
-	valueError     = "ValueError"
-	zeroError      = "ZeroDivisionError"
-	overflowError  = "OverflowError"
-	recursionError = "RecursionError"
-)
-
 // A raised value is thrown up to the try that catches it.
 type raised struct {
 	value any
+}
+
+// sure: what is told, where nothing is wrong with it.
+func sure[T any](v T, wrong string) T {
+	ask(wrong)
+	return v
+}
+
+// ask raises what is wrong, if something is.
+func ask(wrong string) {
+	if wrong != "" {
+		panic(raised{wrong})
+	}
 }
 
 // An exhausted run is thrown past every try.

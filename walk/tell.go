@@ -1,12 +1,6 @@
 package walk
 
-import (
-	"strconv"
-	"strings"
-
-	"nurserypy/api"
-	"nurserypy/lex"
-)
+import "nurserypy/rules"
 
 func str(v any) string {
 	if s, ok := v.(string); ok {
@@ -19,17 +13,6 @@ func str(v any) string {
 func repr(v any, deep int) string {
 	text := ""
 	switch x := v.(type) {
-	case nil:
-		text = "None"
-	case bool:
-		text = "False"
-		if x {
-			text = "True"
-		}
-	case int64:
-		text = strconv.FormatInt(x, 10)
-	case string:
-		text = lex.Quote(x)
 	case *list:
 		text = "[" + joined(len(x.items), deep, func(n int) string {
 			return repr(x.items[n], deep+1)
@@ -42,28 +25,15 @@ func repr(v any, deep int) string {
 		text = "<function " + x.name + ">"
 	case builtin:
 		text = "<builtin " + string(x) + ">"
+	default:
+		text = rules.Repr(v)
 	}
-	fits(len(text))
+	ask(rules.Fits(len(text)))
 	return text
 }
 
-// joined: elements with commas between, given up as soon as they are too long: what else they hold does not matter then.
+// joined: what stands within the brackets of a list or dict.
 func joined(among, deep int, element func(int) string) string {
-	nest(deep)
-	var out strings.Builder
-	for n := range among {
-		if n > 0 {
-			out.WriteString(", ")
-		}
-		out.WriteString(element(n))
-		fits(out.Len())
-	}
-	return out.String()
-}
-
-// nest raises if a list or dict is too deep in what is told or compared.
-func nest(deep int) {
-	if deep > api.MaxNest {
-		panic(raised{recursionError})
-	}
+	ask(rules.Nests(deep))
+	return sure(rules.Joined(among, element))
 }

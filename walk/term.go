@@ -1,13 +1,17 @@
 package walk
 
-import "slices"
+import (
+	"slices"
+
+	"nurserypy/rules"
+)
 
 func (w *walker) term(e *expr, f *frame) any {
 	switch e.Op {
 	case "int":
 		return e.N
 	case "str":
-		fits(len(e.S))
+		ask(rules.Fits(len(e.S)))
 		return e.S
 	case "None":
 		return nil
@@ -51,7 +55,7 @@ func (w *walker) operator(e *expr, f *frame) any {
 	left := w.term(&e.parts[0], f)
 	switch e.Op {
 	case "neg":
-		return number("-", 0, as[int64](left))
+		return sure(rules.Number("-", 0, as[int64](left)))
 	case "not":
 		return !truth(left)
 	case "and", "or":
@@ -86,19 +90,19 @@ func operate(op string, left, right any) any {
 	case ">=":
 		return order(left, right) >= 0
 	}
-	return number(op, as[int64](left), as[int64](right))
+	return sure(rules.Number(op, as[int64](left), as[int64](right)))
 }
 
 func add(left, right any) any {
 	if x, y, ok := both[string](left, right); ok {
-		fits(len(x) + len(y))
+		ask(rules.Fits(len(x) + len(y)))
 		return x + y
 	}
 	if x, y, ok := both[*list](left, right); ok {
-		fits(len(x.items) + len(y.items))
+		ask(rules.Fits(len(x.items) + len(y.items)))
 		return &list{items: slices.Concat(x.items, y.items)}
 	}
-	return number("+", as[int64](left), as[int64](right))
+	return sure(rules.Number("+", as[int64](left), as[int64](right)))
 }
 
 func index(thing, at any) any {
@@ -111,7 +115,7 @@ func index(thing, at any) any {
 		n := place(at, len(x))
 		return x[n : n+1]
 	}
-	panic(raised{typeError})
+	panic(raised{rules.TypeError})
 }
 
 func put(thing, at, v any) {
@@ -121,7 +125,7 @@ func put(thing, at, v any) {
 	case *dict:
 		x.put(at, v)
 	default:
-		panic(raised{typeError})
+		panic(raised{rules.TypeError})
 	}
 }
 
@@ -133,6 +137,6 @@ func remove(thing, at any) {
 	case *dict:
 		x.remove(at)
 	default:
-		panic(raised{typeError})
+		panic(raised{rules.TypeError})
 	}
 }

@@ -1,6 +1,6 @@
 package walk
 
-import "nurserypy/api"
+import "nurserypy/rules"
 
 // A value is nil (None), a bool, an int64, a string, a *list, a *dict, a *function or a builtin.
 
@@ -21,7 +21,7 @@ type builtin string // its name
 func as[T any](v any) T {
 	x, ok := v.(T)
 	if !ok {
-		panic(raised{typeError})
+		panic(raised{rules.TypeError})
 	}
 	return x
 }
@@ -35,20 +35,12 @@ func both[T any](v, w any) (x, y T, ok bool) {
 
 func truth(v any) bool {
 	switch x := v.(type) {
-	case nil:
-		return false
-	case bool:
-		return x
-	case int64:
-		return x != 0
-	case string:
-		return x != ""
 	case *list:
 		return len(x.items) > 0
 	case *dict:
 		return len(x.keys) > 0
 	}
-	return true
+	return rules.Truth(v)
 }
 
 func length(v any) int {
@@ -60,37 +52,23 @@ func length(v any) int {
 	case *dict:
 		return len(x.keys)
 	}
-	panic(raised{typeError})
-}
-
-// fits raises if a text, list or dict with so many bytes or elements is too long.
-func fits(n int) {
-	if n > api.MaxLength {
-		panic(raised{overflowError})
-	}
+	panic(raised{rules.TypeError})
 }
 
 // place: the place in a list or str of so many that an index tells.
 func place(index any, among int) int {
-	n := as[int64](index)
-	if n < 0 {
-		n += int64(among)
-	}
-	if n < 0 || n >= int64(among) {
-		panic(raised{indexError})
-	}
-	return int(n)
+	return sure(rules.Place(as[int64](index), among))
 }
 
 func (l *list) push(v any) {
-	fits(len(l.items) + 1)
+	ask(rules.Fits(len(l.items) + 1))
 	l.items = append(l.items, v)
 }
 
 func (l *list) pop() any {
 	last := len(l.items) - 1
 	if last < 0 {
-		panic(raised{indexError})
+		panic(raised{rules.IndexError})
 	}
 	v := l.items[last]
 	l.items = l.items[:last]

@@ -19,6 +19,9 @@ func Run(c code.Code, input []string, fuel int) api.Outcome {
 		if v, thrown := caught(m.op); thrown {
 			m.unwind(v)
 		}
+		if m.idle >= maxIdle {
+			m.kind = "tired"
+		}
 	}
 	out := api.Outcome{Kind: m.kind, Output: m.output.String(), Steps: m.steps}
 	if m.kind == "raised" {

@@ -14,9 +14,6 @@ func (m *machine) op() {
 	op := f.Ops[f.at]
 	f.at++
 	m.idle++
-	if m.idle == maxIdle {
-		m.kind = "tired"
-	}
 	if !m.constant(f, op) && !m.name(f, op) && !m.flow(f, op) && !m.made(f, op) {
 		worked(f, op.Name)
 	}
@@ -130,6 +127,7 @@ func (m *machine) made(f *frame, op code.Op) bool {
 		for range made.Frees {
 			made.frees = append(made.frees, f.cells[f.Ops[f.at].A])
 			f.at++
+			m.idle++
 		}
 		f.push(made)
 	default:

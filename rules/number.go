@@ -1,37 +1,37 @@
-package walk
+package rules
 
 import "math"
 
-// number: what an operator makes of two ints.
-func number(op string, x, y int64) int64 {
-	switch op {
-	case "+":
+// Number that an operator makes of two ints. Operators have the names that trees give them, or those of ops.
+func Number(operator string, x, y int64) (n int64, wrong string) {
+	switch operator {
+	case "+", "add":
 		return checked(x+y, (x < 0) == (y < 0) && (x < 0) != (x+y < 0))
-	case "-":
+	case "-", "sub":
 		return checked(x-y, (x < 0) != (y < 0) && (x < 0) != (x-y < 0))
-	case "*":
+	case "*", "mul":
 		return checked(x*y, !multiplies(x, y))
 	}
 	if y == 0 {
-		panic(raised{zeroError})
+		return 0, ZeroError
 	}
 	quotient, rest := x/y, x%y
 	if rest != 0 && (rest < 0) != (y < 0) {
 		quotient--
 		rest += y
 	}
-	if op == "%" {
-		return rest
+	if operator == "%" || operator == "mod" {
+		return rest, ""
 	}
 	return checked(quotient, x == math.MinInt64 && y == -1)
 }
 
 // checked: an int, if it is one: what is beyond 64 bits is none.
-func checked(n int64, beyond bool) int64 {
+func checked(n int64, beyond bool) (int64, string) {
 	if beyond {
-		panic(raised{overflowError})
+		return 0, OverflowError
 	}
-	return n
+	return n, ""
 }
 
 // multiplies: whether the product of two ints is one.

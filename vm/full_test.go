@@ -1,0 +1,167 @@
+package vm_test
+
+import (
+	"strconv"
+	"strings"
+	"testing"
+
+	"nurserypy/api"
+	"nurserypy/heap"
+	"nurserypy/tree"
+	"nurserypy/vm"
+	"nurserypy/walk"
+)
+
+func tight(half, old int) vm.Setting {
+	return vm.Setting{Config: heap.Config{Half: half, Old: old, Card: 8, Tenure: 1}}
+}
+
+// P120: where more lives than there is room for, it is full: what was done ahead is told.
+func TestFull(t *testing.T) {
+	for _, s := range []string{
+		"l = []\nwhile True:\n print(len(l))\n push(l, [1, 2])\n",
+		"l = []\nwhile True:\n print(1)\n l = [l, str(l is l)]\n",
+		"d = {}\ni = 0\nwhile True:\n i = i + 1\n print(i)\n d[str(i)] = i\n",
+		"def f(g):\n print(1)\n return f(lambda: g)\nwhile True:\n try:\n  f(0)\n except e:\n  raise e\n",
+		"s = \"a\"\nwhile True:\n print(len(s))\n s = s + s\n",
+		"print(1)\nl = range(1000)\nprint(l)\n",
+		"print(1)\nl = []\nfor x in range(50):\n push(l, 4611686018427387904 + x)\nprint(l)\n",
+		"print(1)\nl = [" + strings.Repeat("[], ", 99) + "[]]\nprint(2)\n",
+	} {
+		l := read(t, s)
+		want, err := walk.Run(l, nil, 2000)
+		if err != nil {
+			t.Fatal(err)
+		}
+		for _, half := range []int{1, 10, 100} {
+			o, err := vm.Play(l, nil, 2000, tight(half, 120))
+			if o.Kind != "full" || !agrees(o, want) || o.Output == "" || o.Steps == 0 || err != nil {
+				t.Errorf("%s, %d: %v, %v", s, half, o, err)
+			}
+		}
+	}
+}
+
+// P120: what nothing leads to any more takes no room, wherever it was: on the stack, in locals and cells, behind the last
+// element of a list, in what is gone through.
+func TestGivenUp(t *testing.T) {
+	great := "[" + strings.Repeat("0, ", 149) + "0]"
+	for _, s := range []string{
+		"for i in range(30):\n x = range(100)\n x = 0\n",
+		"for i in range(30):\n range(100)\n",
+		"l = []\nfor i in range(30):\n push(l, range(100))\n pop(l)\n",
+		"l = [0]\nfor i in range(30):\n l[0] = range(100)\n del l[0]\n push(l, 0)\n",
+		"d = {}\nfor i in range(30):\n d[0] = range(100)\n del d[0]\n",
+		"d = {0: 1}\nfor i in range(30):\n d[0] = range(100)\n d[0] = 0\n",
+		"def f(x):\n y = range(100)\n return 0\nfor i in range(30):\n f(0)\n",
+		"def f(x):\n y = range(100)\n return lambda: y\nfor i in range(30):\n f(0)()\n",
+		"def f(x):\n y = range(100)\n raise x\nfor i in range(30):\n try:\n  f(0)\n except e:\n  pass\n",
+		"for i in range(30):\n for x in range(100):\n  break\n",
+		"for i in range(30):\n try:\n  [range(100), 1 // 0]\n except e:\n  pass\n",
+		"for i in range(30):\n try:\n  raise range(100)\n except e:\n  e = 0\n",
+		"for i in range(30):\n x = " + great + " == 0\n",
+		"for i in range(30):\n x = len(" + great + ")\n",
+		"for i in range(30):\n x = 0 in " + great + "\n",
+		"for i in range(30):\n x = {0: 1}[0] and " + great + "[1]\n",
+		"s = \"" + strings.Repeat("a", 800) + "\"\nfor i in range(30):\n t = s + \"b\"\n t = s < \"b\"\n t = 0\n",
+		"i = 4611686018427387904\nwhile i < 4611686018427388104:\n i = i + 1\n",
+		"def f(n):\n return [n, f]\nfor i in range(30):\n f(range(100))\n",
+	} {
+		l := read(t, s)
+		for _, x := range []vm.Setting{tight(5, 400), tight(60, 400), tight(300, 400)} {
+			if o, err := vm.Play(l, nil, 5000, x); o.Kind != "done" || err != nil {
+				t.Errorf("%s, %v: %v, %v", s, x, o, err)
+			}
+		}
+	}
+}
+
+// P120: a collection is done behind just so many steps: where the heap has no room for what lives, it is full then.
+func TestForce(t *testing.T) {
+	l := read(t, "print(0)\nl = [1]\nprint(1)\nprint(2)\nl = 0\nprint(3)\n")
+	whole := api.Outcome{Kind: "done", Output: "0\n1\n2\n3\n", Steps: 6}
+	// What lives: print, in 2 words, and, from the second statement on to the fifth, a list, in 5. Without a collection
+	// there is room for all of it in the nursery.
+	for old, first := range map[int]int{4: 3, 1: 0, 7: 99} {
+		last := map[int]int{4: 5, 1: 6, 7: 0}[old]
+		for step := -1; step < 9; step++ {
+			for _, major := range []bool{false, true} {
+				want := whole
+				if step >= first && step <= last {
+					printed := []int{0, 0, 1, 1, 2, 3, 3}[step]
+					want = api.Outcome{Kind: "full", Output: whole.Output[:2*printed], Steps: step}
+				}
+				s := tight(1000, old)
+				s.Force = []vm.Force{{Step: -3}, {Step: step, Major: major}, {Step: step}, {Step: 99, Major: true}}
+				if o, err := vm.Play(l, nil, 100, s); o != want || err != nil {
+					t.Error(old, step, major, o, err)
+				}
+			}
+		}
+	}
+}
+
+// P45: collect does a collection, too.
+func TestCollect(t *testing.T) {
+	for n, want := range map[string]string{"0": "full||1\n", "1": "full||1\n", "2": "raised|\"ValueError\"|1\n", "-1": "raised|\"ValueError\"|1\n", "True": "raised|\"TypeError\"|1\n"} {
+		o, err := vm.Play(read(t, "l = [1]\nprint(1)\ncollect("+n+")\nprint(2)\n"), nil, 100, tight(1000, 4))
+		if tell(o) != want || err != nil {
+			t.Error(n, o, err)
+		}
+		if o, err := vm.Play(read(t, "l = [1]\nprint(collect(0), collect(1), l)\n"), nil, 100, tight(1000, 100)); tell(o) != "done||None None [1]\n" || err != nil {
+			t.Error(o, err)
+		}
+	}
+}
+
+// P120: even what there is from the beginning may be too much; what needs no words is never too much.
+func TestNoRoom(t *testing.T) {
+	if o, err := vm.Play(read(t, "print(1)\n"), nil, 100, tight(1, 1)); o != (api.Outcome{Kind: "full"}) || err != nil {
+		t.Error(o, err)
+	}
+	l := read(t, "x = 4611686018427387904\nwhile x > 4611686018427387900:\n x = x - 1\n x == None or -x // 2\nraise x\n")
+	if o, err := vm.Play(l, nil, 100, tight(1, 1)); tell(o) != "raised|4611686018427387900|" || err != nil {
+		t.Error(o, err)
+	}
+}
+
+// words: names of two letters.
+func words(n int) []string {
+	var out []string
+	for i := range n {
+		out = append(out, string(rune('j'+i/20))+strconv.Itoa(i%10)+[]string{"", "a"}[i/10%2])
+	}
+	return out
+}
+
+// P120: never full, where Half is 256 or more, Old is 65536, and few things are made, none of them great: however many
+// values are on the stack, in locals and in cells.
+func TestNeverFull(t *testing.T) {
+	const great = "x = 4611686018427387904\n"
+	all, few := words(280), words(20)
+	for what, s := range map[string]string{
+		"stack":     great + "def f():\n return [" + strings.Repeat("-x, ", 980) + "f()]\nf()\n",
+		"arguments": great + "def f(" + strings.Join(all, ", ") + "):\n return f(" + strings.Repeat("-x, ", 279) + "x)\nf(" + strings.Repeat("x, ", 279) + "x)\n",
+		"cells":     great + "def f(" + strings.Join(all, ", ") + "):\n 0 and (lambda: [" + strings.Join(all, ", ") + "])\n return f(" + strings.Repeat("-x, ", 279) + "x)\nf(" + strings.Repeat("x, ", 279) + "x)\n",
+		"dicts":     great + "def f(l):\n d = {0: l}\n for i in range(19):\n  d[x + i] = -x - i\n return d\nl = 0\nfor i in range(12):\n for j in range(12):\n  l = f(l)\nprint(len(l))\n",
+		"lists":     great + "def f(l):\n l = [l]\n i = 0\n while i < 19:\n  push(l, x + i)\n  i = i + 1\n return l\ni = 0\nl = 0\nwhile i < 299:\n i = i + 1\n l = f(l)\nprint(len(l))\n",
+		"strs":      "def f(l):\n return [l, \"" + strings.Repeat("a", 19) + "\" + str(0)]\ni = 0\nl = 0\nwhile i < 75:\n i = i + 1\n l = f(l)\nprint(len(l))\n",
+		"functions": great + "def f(" + strings.Join(few, ", ") + "):\n return lambda: [" + strings.Join(few, ", ") + "]\ni = 0\nl = 0\nwhile i < 298:\n i = i + 1\n l = f(l" + strings.Repeat(", x + i", 19) + ")\nprint(l)\n",
+		"loops": great + "d = {}\ndef g():\n i = 0\n while i < 20:\n  d[x + i] = 0\n  i = i + 1\n return d\n" +
+			"def f():\n for a in g():\n  for a in g():\n   for a in g():\n    for a in g():\n     for a in g():\n      for a in g():\n       f()\nf()\n",
+	} {
+		l := read(t, s)
+		if text, err := tree.Text(l); err != nil {
+			t.Fatal(what, len(text), err)
+		}
+		want, err := walk.Run(l, nil, api.MaxFuel)
+		if err != nil || want.Kind == "tired" {
+			t.Fatal(what, want, err)
+		}
+		for _, half := range []int{256, 3000, api.MaxWords} {
+			if got, err := vm.Play(l, nil, api.MaxFuel, roomy(half)); got != want || err != nil {
+				t.Error(what, half, got, err)
+			}
+		}
+	}
+}
