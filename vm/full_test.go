@@ -51,7 +51,10 @@ func TestGivenUp(t *testing.T) {
 		"for i in range(30):\n range(100)\n",
 		"l = []\nfor i in range(30):\n push(l, range(100))\n pop(l)\n",
 		"l = [0]\nfor i in range(30):\n l[0] = range(100)\n del l[0]\n push(l, 0)\n",
+		"l = []\nfor i in range(3):\n push(l, range(100))\nfor i in range(3):\n pop(l)\nm = [range(100), range(100), range(100)]\n",
+		"l = [range(100), range(100), range(100)]\nwhile l:\n del l[0]\nm = [range(100), range(100), range(100)]\n",
 		"d = {}\nfor i in range(30):\n d[0] = range(100)\n del d[0]\n",
+		"d = {0: range(100), 1: range(100), 2: range(100)}\nfor i in keys(d):\n del d[i]\nm = [range(100), range(100), range(100)]\n",
 		"d = {0: 1}\nfor i in range(30):\n d[0] = range(100)\n d[0] = 0\n",
 		"def f(x):\n y = range(100)\n return 0\nfor i in range(30):\n f(0)\n",
 		"def f(x):\n y = range(100)\n return lambda: y\nfor i in range(30):\n f(0)()\n",
@@ -118,6 +121,19 @@ func TestCollect(t *testing.T) {
 func TestNoRoom(t *testing.T) {
 	if o, err := vm.Play(read(t, "print(1)\n"), nil, 100, tight(1, 1)); o != (api.Outcome{Kind: "full"}) || err != nil {
 		t.Error(o, err)
+	}
+	for s, want := range map[string]string{
+		"{}\n":                      "full||",
+		"for x in 5:\n pass\n":      "raised|\"TypeError\"|",
+		"x\n":                       "raised|\"NameError\"|",
+		"1()\n":                     "raised|\"TypeError\"|",
+		"1[0]\n":                    "raised|\"TypeError\"|",
+		"1 // 0\n":                  "raised|\"ZeroDivisionError\"|",
+		"try:\n x\nexcept e:\n e\n": "full||",
+	} {
+		if o, err := vm.Play(read(t, s), nil, 100, tight(1, 1)); tell(o) != want || err != nil {
+			t.Error(s, o, err)
+		}
 	}
 	l := read(t, "x = 4611686018427387904\nwhile x > 4611686018427387900:\n x = x - 1\n x == None or -x // 2\nraise x\n")
 	if o, err := vm.Play(l, nil, 100, tight(1, 1)); tell(o) != "raised|4611686018427387900|" || err != nil {

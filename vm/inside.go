@@ -9,22 +9,21 @@ const (
 	insideFields
 )
 
-// pushInside puts what goes through a thing on the stack.
+// pushInside puts what goes through a thing on the stack. (Keys of a dict that come, or go, on the way do not matter.)
 func (m *machine) pushInside(thing int) {
-	over := m.push()
-	m.create(over, insideKind, insideFields)
-	m.setNumber(over, placeField, 0)
 	switch x := m.value(thing).(type) {
 	case list, string:
-		m.put(over, thingField, thing)
+		m.pushCopy(thing)
 	case dict:
-		// Keys that come, or go, on the way do not matter.
 		m.pushJoined(x.keys())
-		m.put(over, thingField, m.top-1)
-		m.drop(1)
 	default:
 		panic(failed(rules.TypeError))
 	}
+	over := m.push()
+	m.create(over, insideKind, insideFields)
+	m.put(over, thingField, over-1)
+	m.setNumber(over, placeField, 0)
+	m.keep(1)
 }
 
 // advance puts the next element of what is gone through on the stack: false, if there is none.

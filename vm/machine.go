@@ -5,7 +5,6 @@ import (
 
 	"nurserypy/api"
 	"nurserypy/code"
-	"nurserypy/rules"
 )
 
 // maxIdle ops without a step, and a run is tired.
@@ -16,15 +15,16 @@ const maxIdle = 100000
 type machine struct {
 	stack
 	code.Code
-	end     ending
-	globals []int // of each of the Names its slot
-	frames  []*frame
-	input   []string // what was not yet asked for
-	output  strings.Builder
-	force   []Force
-	fuel    int
-	steps   int
-	idle    int // ops since the last step
+	end      ending
+	builtins []builtin
+	globals  []int // of each of the Names its slot
+	frames   []*frame
+	input    []string // what was not yet asked for
+	output   strings.Builder
+	force    []Force
+	fuel     int
+	steps    int
+	idle     int // ops since the last step
 }
 
 // An ending is how a run ended, and what was raised then; as long as it did not, it is empty.
@@ -68,8 +68,8 @@ func (m *machine) begin() {
 		}
 		m.globals = append(m.globals, slots[name])
 	}
-	for n, name := range rules.Builtins() {
-		if slot, ok := slots[name]; ok {
+	for n, b := range m.builtins {
+		if slot, ok := slots[string(b)]; ok {
 			m.create(slot, builtinKind, 1)
 			m.setNumber(slot, 0, n)
 		}

@@ -5,7 +5,9 @@ import (
 	"nurserypy/rules"
 )
 
-// moves does an op that puts a value, or lets a name become one: false, if it is no such op. So do the others.
+// An op is of one of four sorts; those of the first three tell whether it is one of theirs.
+
+// moves: ops that put a value, or let a name become one.
 func (m *machine) moves(f *frame, op code.Op) bool {
 	switch op.Name {
 	case "const":
@@ -98,7 +100,7 @@ func (m *machine) makes(f *frame, op code.Op) bool {
 	return true
 }
 
-// works out an operator: its value takes the place of its parts.
+// works: operators, whose value takes the place of their parts.
 func (m *machine) works(name string) {
 	switch name {
 	case "neg":

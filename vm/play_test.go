@@ -52,6 +52,41 @@ func TestWritten(t *testing.T) {
 	}
 }
 
+// P41, P46, P122: what is as great, or as deep, as it may be, and what is more.
+func TestGreatest(t *testing.T) {
+	const nested = "def nest(n, d):\n l = 0\n while n > 0:\n  n = n - 1\n  l = [[l], {0: l}][d]\n return l\n"
+	for _, s := range []string{
+		"l = range(1999)\npush(l, 1)\nprint(len(l))\npush(l, 1)\n",
+		"l = range(1999)\npush(l, 1)\ntry:\n push(l, 1)\nexcept e:\n print(e, len(l), pop(l))\n",
+		"l = range(1000)\nprint(len(l + l))\nl + range(1001)\n",
+		"print(len(range(2000)))\nrange(2001)\n",
+		"l = range(2000)\nl + []\n[] + l\nl + [1]\n",
+		"l = range(2000)\ni = 0\nwhile l:\n i = i + pop(l)\nprint(i, l)\nwhile len(l) < 1000:\n push(l, i)\nwhile l:\n del l[len(l) // 2]\npop(l)\n",
+		"d = {}\ni = 0\nwhile i < 2000:\n i = i + 1\n d[i * i] = [i]\nprint(len(d), d[4000000], len(keys(d)))\nd[1] = 5\nprint(d[1])\nd[0] = 5\n",
+		"d = {}\nfor i in range(2000):\n d[str(i)] = i\ne = {}\nfor i in range(2000):\n e[str(1999 - i)] = 1999 - i\nprint(d == e, keys(d) == keys(e))\nfor k in d:\n del e[k]\nprint(len(e), e)\ntry:\n d[0] = 1\nexcept x:\n print(x, len(d))\n",
+		"s = \"abcd\"\nwhile len(s) < 1024:\n s = s + s\nt = s + s[0]\nwhile len(s + t) < 2000:\n t = t[0] + t\n",
+		"s = \"a\"\nwhile True:\n s = s + s[0]\n",
+		"s = \"a\"\nwhile len(s) < 1998:\n s = s + \"b\"\nprint(len(str([s[1]])))\ntry:\n str([s])\nexcept e:\n print(e)\nprint(s)\nraise s + \"cc\"\n",
+		"while True:\n print(range(100))\n",
+		nested + "print(nest(20, 0), nest(20, 1))\nnest(20, 0) == nest(20, 0)\nnest(20, 1) == nest(20, 1)\nnest(20, 0) in [nest(20, 0)]\nstr(nest(21, 0))\n",
+		nested + "try:\n str(nest(21, 1))\nexcept e:\n print(e)\nnest(21, 0) == nest(21, 0)\n",
+		nested + "try:\n nest(21, 1) == nest(21, 1)\nexcept e:\n print(e)\nnest(21, 0) in [0, nest(21, 0)]\n",
+		nested + "print(nest(22, 0) == nest(21, 1), nest(20, 0) == nest(21, 0))\n",
+		nested + "a = {1: nest(20, 0), 2: 1}\nb = {2: 2, 1: nest(20, 0)}\nprint(a in [b], b == a)\nb in [a]\n",
+		nested + "raise nest(21, 0)\n",
+		"l = []\nm = []\nfor i in range(19):\n l = [l, l, l, l]\n m = [m, m, m, m]\nprint(l == m, l in [1, m], {0: l} == {0: m})\nl == [m]\n",
+		"a = {1: [0], 2: 1}\nb = {2: 2, 1: [0]}\nprint(a == b, b == a, [a] == [b], a in [b, a], {1: 2, 2: 1} == {2: 1, 1: 2}, {1: 2} == {True: 2}, {1: None} == {2: None})\n",
+		"l = [[]]\nl[0] = l\nm = {0: l}\nl == l[0]\n",
+		"l = [0]\nl[0] = l\nprint(l is l[0], [l] is l)\nl in [l]\n",
+		"def f(n):\n if n:\n  return f(n - 1) + 1\n return 0\nprint(f(59))\nf(60)\n",
+	} {
+		l := read(t, s)
+		if kind := plays(t, l, api.MaxFuel, roomy(300)); kind == "full" || kind == "tired" {
+			t.Errorf("%s: %s", s, kind)
+		}
+	}
+}
+
 // P122: by whatever Setting; a collection behind each step, and at each object that is made.
 func TestMadeUp(t *testing.T) {
 	r := rand.New(rand.NewSource(2))

@@ -1,6 +1,7 @@
 package vm_test
 
 import (
+	"strconv"
 	"strings"
 	"testing"
 
@@ -78,6 +79,8 @@ func TestInts(t *testing.T) {
 		{"int " + great + "; int 7; dict 1; int " + great + "; index", "7"},
 		{"int " + great + "; int " + less + "; dict 1; int " + great + "; index", less},
 		{"int " + great + "; int 7; dict 1; int " + less + "; index", "KeyError"},
+		{"int " + great + "; list 1; int 0; index; int 7; dict 1; int " + great + "; index", "7"},
+		{"int " + great + "; int 7; dict 1; int " + great + "; list 1; int 0; index; index", "7"},
 		{"int " + great + "; neg; neg", great},
 		{"int " + great + "; not", "False"},
 		{"int " + great + "; int " + great + "; sub", "0"},
@@ -233,6 +236,20 @@ func TestProgramCalled(t *testing.T) {
 	is(t, "closure 1", "OverflowError", long+"n|int 1; raise")
 }
 
+// The greatest frames that there can be, as many as there can be.
+func TestGreatestFrames(t *testing.T) {
+	takes := func(from int) string {
+		var out strings.Builder
+		for n := range 400 {
+			out.WriteString("; take " + strconv.Itoa(from+n))
+		}
+		return out.String()
+	}
+	does(t, "raised|\"RecursionError\"|", "|"+strings.Repeat("const None; ", 999)+"closure 1; call 0; raise",
+		"f 0 400 400 0|int 4611686018427387904; fill 399; closure 2"+takes(0)+"; call 0; return",
+		"g 0 400 400 400|cell 799; store 399; "+strings.Repeat("load 399; ", 999)+"closure 2"+takes(400)+"; call 0; return")
+}
+
 // P120: what iter makes.
 func TestInside(t *testing.T) {
 	for _, row := range [][2]string{
@@ -354,6 +371,12 @@ func TestIdle(t *testing.T) {
 		if tell(o) != row.want || err != nil {
 			t.Errorf("%.60q: %v, %v, want %q", row.code, o, err, row.want)
 		}
+	}
+	// An op that is not done, since the heap is full, is none of them.
+	s := roomy(100)
+	s.Old = 1500
+	if o, err := vm.Run(assembled(idle(most+1, "global range; int 2000; call 1; halt")), nil, 5, s); tell(o) != "full||" || err != nil {
+		t.Error(o, err)
 	}
 	// Those of functions count as well, and so does take.
 	for ops, want := range map[int]string{most - 1: "done", most: "tired"} {

@@ -31,6 +31,14 @@ type (
 // A builtin is told by its name.
 type builtin string
 
+func builtins() []builtin {
+	var out []builtin
+	for _, name := range rules.Builtins() {
+		out = append(out, builtin(name))
+	}
+	return out
+}
+
 func (m *machine) value(slot int) any {
 	if n, ok := m.toInt(slot); ok {
 		return n
@@ -47,7 +55,7 @@ func (m *machine) value(slot int) any {
 	case insideKind:
 		return inside(slot)
 	case builtinKind:
-		return builtin(rules.Builtins()[m.number(slot, 0)])
+		return m.builtins[m.number(slot, 0)]
 	}
 	return m.constant(slot)
 }
@@ -73,9 +81,9 @@ func as[T any](v any) T {
 
 // both: two values, if they have this kind, both of them.
 func both[T any](v, w any) (x, y T, ok bool) {
-	x, first := v.(T)
-	y, second := w.(T)
-	return x, y, first && second
+	x, one := v.(T)
+	y, other := w.(T)
+	return x, y, one && other
 }
 
 func (m *machine) truth(slot int) bool {

@@ -155,9 +155,11 @@ func (c *coder) list(deep int) {
 		c.put("add", 0)
 	case n == 3:
 		c.list(deep - 1)
-		c.put("dup", 0) // it is pushed to itself
+		c.put("dup", 0)
+		c.put("name", 1)
+		c.put("dup", 0)
 		c.builtin("push")
-		c.put("global", 0)
+		c.put("global", 1) // the same list, which may come to hold itself
 		c.anything(deep - 1)
 		c.put("call", 2)
 		c.put("pop", 0)
