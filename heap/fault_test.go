@@ -100,6 +100,12 @@ func TestFaults(t *testing.T) {
 		{func(h *heap.Heap) error { return look(h, -1, 1) }, api.ErrPlace},
 		{func(h *heap.Heap) error { return look(h, 0, 5) }, api.ErrPlace},
 		{func(h *heap.Heap) error { return look(h, 0, -1) }, api.ErrPlace},
+		{func(h *heap.Heap) error { return h.Aim(1, 1) }, api.ErrPlace},
+		{func(h *heap.Heap) error { return h.Aim(-1, 0) }, api.ErrPlace},
+		{func(h *heap.Heap) error { return h.Aim(0, 5) }, api.ErrPlace},
+		{func(h *heap.Heap) error { return h.Aim(0, -1) }, api.ErrPlace},
+		{func(h *heap.Heap) error { return h.Aim(0, 0) }, api.ErrShape},
+		{func(h *heap.Heap) error { return h.Aim(0, 4) }, api.ErrShape},
 	} {
 		h := busy(t)
 		before := h.Snapshot()
@@ -125,7 +131,7 @@ func TestAnyNumbers(t *testing.T) {
 				for _, c := range numbers {
 					ofRoots := []error{
 						h.Make(a, b, c), h.Int(a, int64(b)), h.Const(a, b), h.Copy(a, b), h.Text(a, "x"),
-						h.Get(a, b, c), h.Put(a, b, c), serial(h, a), weak(h, a), look(h, a, b),
+						h.Get(a, b, c), h.Put(a, b, c), serial(h, a), weak(h, a), look(h, a, b), h.Aim(a, b),
 					}
 					for i, err := range ofRoots {
 						if (a < 0 || a >= roots) && i < 9 && err != api.ErrPlace {

@@ -138,7 +138,7 @@ func (p *pair) act() error {
 	acts := []func() error{
 		p.makeOne, p.makeOne, p.makeOne, p.makeOne, p.text, p.text, p.number, p.constant, p.copyRoot, p.copyRoot,
 		p.put, p.put, p.put, p.put, p.get, p.get, p.serial, p.weaken, p.weaken, p.look, p.look, p.collect,
-		p.move, p.find, p.resize,
+		p.move, p.find, p.resize, p.aim,
 	}
 	if err := acts[p.r.Intn(len(acts))](); err != nil {
 		return err
@@ -420,6 +420,19 @@ func (p *pair) look() error {
 	return p.tells("look", err, nil)
 }
 
+func (p *pair) aim() error {
+	n, r := p.near(len(p.weak)), p.root()
+	err := p.Aim(n, r)
+	if n < 0 || n >= len(p.weak) {
+		return p.tells("aim", err, api.ErrPlace)
+	}
+	x, want := p.object(r)
+	if want == nil {
+		p.weak[n], p.gone[n] = x, false
+	}
+	return p.tells("aim", err, want)
+}
+
 func hasKey(l map[*thing]int, x *thing) bool {
 	_, ok := l[x]
 	return ok
@@ -462,7 +475,7 @@ func TestLives(t *testing.T) {
 			told[what] += n
 		}
 	}
-	for _, what := range strings.Split("make text box int const copy get put serial weak look minor major move find resize", " ") {
+	for _, what := range strings.Split("make text box int const copy get put serial weak look minor major move find resize aim", " ") {
 		if told[what+" <nil>"] < 200 {
 			t.Error(what, told[what+" <nil>"])
 		}

@@ -299,6 +299,42 @@ func TestRevived(t *testing.T) {
 	}
 }
 
+// A weak reference that is aimed anew is one to that object, whatever became of the other; it is none more.
+func TestAim(t *testing.T) {
+	h := fresh(t, 12, 40, 4, 1, 3)
+	ok(t, h.Make(0, 8, 1), h.Text(1, "other"))
+	for r := range 2 {
+		if n, err := h.Weak(r); n != r || err != nil {
+			t.Fatal(n, err)
+		}
+	}
+	looks := func(weak int, want string) {
+		t.Helper()
+		is, err := h.Look(weak, 2)
+		told := strings.Split(h.Show(), "\n")[2]
+		if is != (want != "root none") || err != nil || told != want {
+			t.Fatal(weak, is, err, told)
+		}
+		ok(t, h.Const(2, api.None))
+		right(t, h)
+	}
+	ok(t, h.Aim(0, 1))
+	looks(0, "root @1")
+	looks(1, "root @1")
+	ok(t, h.Const(1, api.None), h.Major())
+	looks(0, "root none")
+	looks(1, "root none")
+	ok(t, h.Int(1, 1<<62), h.Aim(1, 1), h.Minor(), h.Minor(), h.Major())
+	looks(0, "root none")
+	looks(1, "root @1")
+	ok(t, h.Aim(0, 0), h.Minor(), h.Const(1, api.None), h.Major())
+	looks(0, "root @0")
+	looks(1, "root none")
+	if n, err := h.Weak(0); n != 2 || err != nil {
+		t.Error(n, err)
+	}
+}
+
 // There are at most MaxRoots weak references, gone or not; that there is no object is told first.
 func TestWeakBound(t *testing.T) {
 	h := fresh(t, 4, 8, 4, 1, 2)

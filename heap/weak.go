@@ -34,6 +34,19 @@ func (h *Heap) Weak(r int) (int, error) {
 	return len(h.in.Weak) - 1, nil
 }
 
+// Aim a weak reference, gone or not, at what a root points to: so one that is gone can be of use again.
+func (h *Heap) Aim(weak, r int) error {
+	if !within(weak, 0, len(h.in.Weak)-1) {
+		return api.ErrPlace
+	}
+	p, err := h.in.pointer(r)
+	if err != nil {
+		return err
+	}
+	h.in.Weak[weak] = p
+	return nil
+}
+
 // Look at a weak reference. (A collection makes None of those whose object it lets go.)
 func (h *Heap) Look(weak, to int) (bool, error) {
 	if !within(weak, 0, len(h.in.Weak)-1) {
