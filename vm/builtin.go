@@ -67,7 +67,7 @@ func (m *machine) pushRange(end int64) {
 	count := sure(rules.Counted(end))
 	to := m.pushRow(m.pushList(count).row())
 	for n := range count {
-		m.setNumber(to, n, n)
+		m.setNumber(int(to), n, n)
 	}
 	m.drop(1)
 }

@@ -6,10 +6,11 @@ import (
 	"nurserypy/rules"
 )
 
-// Fields of a function: the number of its Func, then its cells.
+// Fields of a function: the number of its Func, then, two for each, the groups of its cells.
 const (
 	funcField = iota
-	firstFree
+	groupField
+	groupFields = 2
 )
 
 // made: the Func of which a function is.
@@ -44,8 +45,9 @@ func (m *machine) enter(x function, arguments int) {
 	f := &frame{ops: made.Ops, locals: int(x) + 1}
 	f.cells = f.locals + made.Locals
 	m.resize(f.cells + made.Cells)
-	for n := range made.Frees {
-		m.pushField(int(x), firstFree+n)
+	fields := must(m.Size(first(int(x))))
+	for field := groupField; field < fields; field += groupFields {
+		m.pushGroup(int(x), field)
 	}
 	m.frames = append(m.frames, f)
 }
@@ -60,16 +62,20 @@ func (m *machine) leave(f *frame) {
 // enclose puts a new function on the stack, with the cells that the next ops take.
 func (m *machine) enclose(f *frame, number int) {
 	frees := m.Funcs[number].Frees
-	made := m.push()
-	m.create(made, functionKind, firstFree+frees)
-	m.setNumber(made, funcField, number)
-	for n := range frees {
-		cell := f.cells + f.ops[f.at+n].A
-		m.share(cell)
-		m.put(made, firstFree+n, cell)
+	var cells []int
+	for _, op := range f.ops[f.at : f.at+frees] {
+		cells = append(cells, f.cells+op.A)
 	}
 	f.at += frees
 	m.idle += frees
+	m.share(cells)
+	groups := m.groups(cells)
+	made := m.push()
+	m.create(made, functionKind, groupField+groupFields*len(groups))
+	m.setNumber(made, funcField, number)
+	for n, p := range groups {
+		m.setGroup(made, groupField+groupFields*n, p)
+	}
 }
 
 func (m *machine) load(slot int) {
@@ -81,37 +87,5 @@ func (m *machine) load(slot int) {
 
 func (m *machine) store(slot int) {
 	m.copy(slot, m.top-1)
-	m.drop(1)
-}
-
-// A cell that nobody else has is what its slot holds; from the first time that a function takes it, it is an object.
-
-// share makes an object of a cell, if it is none yet.
-func (m *machine) share(cell int) {
-	if m.kind(cell) == cellKind {
-		return
-	}
-	shared := m.push()
-	m.create(shared, cellKind, 1)
-	m.put(shared, 0, cell)
-	m.copy(cell, shared)
-	m.drop(1)
-}
-
-func (m *machine) loadCell(cell int) {
-	if m.kind(cell) != cellKind {
-		m.load(cell)
-		return
-	}
-	m.load(m.pushField(cell, 0))
-	m.keep(1)
-}
-
-func (m *machine) storeCell(cell int) {
-	if m.kind(cell) != cellKind {
-		m.store(cell)
-		return
-	}
-	m.put(cell, 0, m.top-1)
 	m.drop(1)
 }

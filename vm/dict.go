@@ -35,7 +35,7 @@ func (m *machine) pair(from, pairs int) {
 // isKey: None, bools, ints and strs are keys.
 func (m *machine) isKey(slot int) bool {
 	switch m.kind(slot) {
-	case 0, heap.BoxKind, heap.TextKind:
+	case 0, heap.TextKind:
 		return true
 	}
 	return false

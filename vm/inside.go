@@ -50,7 +50,7 @@ func (m *machine) pushNth(thing, n int) bool {
 		}
 	case string:
 		if n < len(x) {
-			m.pushText(x[n : n+1])
+			m.pushShared(x[n : n+1])
 			return true
 		}
 	}

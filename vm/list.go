@@ -47,7 +47,7 @@ func (m *machine) pushJoined(parts ...row) {
 func (m *machine) gather(from, slots int) {
 	to := m.pushRow(m.pushList(slots).row())
 	for n := range slots {
-		m.put(to, n, from+n)
+		m.lay(to, n, from+n)
 	}
 	m.drop(1)
 }

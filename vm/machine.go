@@ -19,7 +19,8 @@ type machine struct {
 	builtins []builtin
 	globals  []int // of each of the Names its slot
 	frames   []*frame
-	input    []string // what was not yet asked for
+	shared   map[string]int // of each text that is, or was, shared the weak reference to its str
+	input    []string       // what was not yet asked for
 	output   strings.Builder
 	force    []Force
 	fuel     int

@@ -16,7 +16,7 @@ func (m *machine) moves(f *frame, op code.Op) bool {
 		m.pushInt(m.Ints[op.A])
 	case "str":
 		ask(rules.Fits(len(m.Strs[op.A])))
-		m.pushText(m.Strs[op.A])
+		m.pushShared(m.Strs[op.A])
 	case "load":
 		m.load(f.locals + op.A)
 	case "store":

@@ -57,7 +57,7 @@ func (m *machine) pushIndexed(thing, at int) {
 		m.pushElement(x.values(), m.mustLocate(x, at))
 	case string:
 		n := m.place(at, len(x))
-		m.pushText(x[n : n+1])
+		m.pushShared(x[n : n+1])
 	default:
 		panic(failed(rules.TypeError))
 	}

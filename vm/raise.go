@@ -49,7 +49,7 @@ func (m *machine) fail(name string) {
 		return
 	}
 	m.resize(t.slots)
-	m.attempt(func() { m.setText(m.push(), name) })
+	m.attempt(func() { m.pushShared(name) })
 }
 
 // raise: it goes on with the value of a slot.

@@ -2,36 +2,27 @@ package vm
 
 import "nurserypy/api"
 
-// A row of elements: the slot of the list or dict that has it, and its field there. It may be longer than there are
-// elements: what is behind them is None. As long as there never was one, there is no row.
+// A row of elements: the slot of the list or dict that has it, and its field there, in which a pack is. That may have room
+// for more than there are elements: what is behind them is None. As long as there never was one, there is no pack.
 type row struct {
 	of, field int
 }
 
-// pushRow puts the row itself on the stack.
-func (m *machine) pushRow(r row) int { return m.pushField(r.of, r.field) }
+func (m *machine) pushRow(r row) pack { return pack(m.pushField(r.of, r.field)) }
 
-// room: how many fields a row has.
-func (m *machine) room(r row) int {
-	fields, _ := m.Size(first(m.pushRow(r))) // 0, where there is no row
-	m.drop(1)
-	return fields
-}
-
-// lengthen: a row has so many fields from now on. Its elements come along.
-func (m *machine) lengthen(r row, fields int) {
-	longer := m.push()
-	m.create(longer, rowKind, fields)
+// lengthen: a row has room for so many elements from now on. Those that it has come along.
+func (m *machine) lengthen(r row, room int) {
+	longer := m.pushPack(room)
 	m.pour(longer, 0, r)
-	m.put(r.of, r.field, longer)
+	m.put(r.of, r.field, int(longer))
 	m.drop(1)
 }
 
-// pour all elements of a row into one that a slot holds, from a field on: how many they are.
-func (m *machine) pour(to, field int, r row) int {
+// pour all elements of a row into a pack, from a place on: how many they are.
+func (m *machine) pour(to pack, at int, r row) int {
 	elements := m.count(r.of)
 	if elements > 0 {
-		check(m.Move(first(to), field, first(m.pushRow(r)), 0, elements))
+		m.carry(to, at, m.pushRow(r), 0, elements)
 		m.drop(1)
 	}
 	return elements
@@ -39,21 +30,22 @@ func (m *machine) pour(to, field int, r row) int {
 
 // pushElement puts an element on the stack.
 func (m *machine) pushElement(r row, n int) int {
-	slot := m.pushRow(r)
-	m.get(slot, n, slot)
-	return slot
+	p := m.pushRow(r)
+	m.fetch(p, n, int(p))
+	return int(p)
 }
 
 func (m *machine) setElement(r row, n, from int) {
-	slot := m.pushRow(r)
-	m.put(slot, n, from)
+	m.lay(m.pushRow(r), n, from)
 	m.drop(1)
 }
 
 // addElement lets what a slot holds come behind the last element. (Whoever has the row counts it.)
 func (m *machine) addElement(r row, from int) {
 	n := m.count(r.of)
-	if n == m.room(r) {
+	room := m.room(m.pushRow(r))
+	m.drop(1)
+	if n == room {
 		m.lengthen(r, n+n/4+4)
 	}
 	m.setElement(r, n, from)
@@ -62,21 +54,20 @@ func (m *machine) addElement(r row, from int) {
 // cutElement takes an element out. (Whoever has the row counts it off.)
 func (m *machine) cutElement(r row, n int) {
 	last := m.count(r.of) - 1
-	slot := m.pushRow(r)
-	check(m.Move(first(slot), n, first(slot), n+1, last-n))
-	m.setConst(hand, api.None)
-	m.put(slot, last, hand)
-	m.drop(1)
+	p := m.pushRow(r)
+	m.carry(p, n, p, n+1, last-n)
+	m.pushConst(api.None)
+	m.lay(p, last, m.top-1)
+	m.drop(2)
 }
 
 // find the like of what a slot holds, among the elements from one on: -1 if there is none.
 func (m *machine) find(r row, from, like int) int {
-	among := m.count(r.of) - from
-	if among == 0 {
+	end := m.count(r.of)
+	if from == end {
 		return -1
 	}
-	m.box(like)
-	n := must(m.Find(first(m.pushRow(r)), from, among, first(like)))
+	n := m.seek(m.pushRow(r), from, end, like)
 	m.drop(1)
 	return n
 }

@@ -87,18 +87,8 @@ func (s *stack) create(slot, kind, size int) { s.whole(slot, s.Make(first(slot),
 // get lets a slot become a field of what another one holds.
 func (s *stack) get(slot, field, to int) { s.whole(to, s.Get(first(slot), field, first(to))) }
 
-// put lets a field of what a slot holds become what another one holds.
-func (s *stack) put(slot, field, from int) {
-	s.box(from)
-	check(s.Put(first(slot), field, first(from)))
-}
-
-// box: what a slot holds is to be in its first root alone.
-func (s *stack) box(slot int) {
-	if n, ok := s.wide(slot); ok {
-		s.whole(slot, s.Int(first(slot), n))
-	}
-}
+// put lets a field of what a slot holds become what another one holds, in its first root.
+func (s *stack) put(slot, field, from int) { check(s.Put(first(slot), field, first(from))) }
 
 // wide tells the int of which a slot holds both halves.
 func (s *stack) wide(slot int) (n int64, ok bool) {

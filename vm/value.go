@@ -6,15 +6,14 @@ import (
 	"nurserypy/rules"
 )
 
-// Kinds of objects. A list has the number of its elements, and a row of them; a dict the number of its keys, a row of
-// them, and one of their values; a function the number of its Func, and its cells; a cell what is in it; what iter makes
-// the thing that is gone through, and a place in it; a builtin its number.
+// Kinds of objects. A pack has values, of which other objects are made; a list has the number of its elements, and a row
+// of them; a dict the number of its keys, a row of them, and one of their values; a function the number of its Func, and
+// where its cells are; what iter makes the thing that is gone through, and a place in it; a builtin its number.
 const (
-	listKind = iota + 8
-	rowKind
+	packKind = iota + 8
+	listKind
 	dictKind
 	functionKind
-	cellKind
 	insideKind
 	builtinKind
 )
