@@ -26,6 +26,7 @@ func (w *walker) block(l []stmt, f *frame) int {
 
 func (w *walker) statement(s *stmt, f *frame) int {
 	w.step()
+	w.begun(Start{Step: w.steps, Stmt: s.number, Deep: w.calls})
 	switch s.Kind {
 	case "if":
 		if truth(w.term(&s.terms[0], f)) {

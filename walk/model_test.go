@@ -3,6 +3,7 @@ package walk_test
 import (
 	"fmt"
 	"math/big"
+	"slices"
 	"strconv"
 	"strings"
 	"testing"
@@ -38,6 +39,8 @@ type world struct {
 	open, serials int
 	input         []string
 	output        string
+	numbers       map[*tree.Stmt]int
+	starts        []walk.Start
 }
 
 // An end is why something is not worked out to the end: a value that is raised, or that the run is tired; or a break, continue, return.
@@ -146,6 +149,8 @@ func (w *world) stmt(s *tree.Stmt) *end {
 	if e := w.step(); e != nil {
 		return e
 	}
+	o := w.outermost
+	o.starts = append(o.starts, walk.Start{Step: o.steps, Stmt: o.numbers[s], Deep: o.open})
 	switch s.Kind {
 	case "while":
 		for {
@@ -741,10 +746,20 @@ func (w *world) worked(name string, args []thing) (thing, *end) {
 	return thing{kind: "none"}, nil
 }
 
-// modelled: what the model tells of a run.
-func modelled(l []tree.Stmt, input []string, fuel int) api.Outcome {
-	w := &world{globals: map[string]thing{}, input: input, fuel: fuel}
+// number gives statements their numbers, in the order of the text.
+func (w *world) number(l []tree.Stmt) {
+	for i := range l {
+		w.numbers[&l[i]] = len(w.numbers)
+		w.number(l[i].Body)
+		w.number(l[i].Else)
+	}
+}
+
+// modelled: what the model tells of a run, and of its statements.
+func modelled(l []tree.Stmt, input []string, fuel int) (api.Outcome, []walk.Start) {
+	w := &world{globals: map[string]thing{}, input: input, fuel: fuel, numbers: map[*tree.Stmt]int{}}
 	w.outermost = w
+	w.number(l)
 	for _, name := range strings.Fields("len str push pop keys id range input print collect") {
 		w.globals[name] = thing{kind: "builtin", s: name}
 	}
@@ -760,7 +775,7 @@ func modelled(l []tree.Stmt, input []string, fuel int) api.Outcome {
 		}
 		o.Value = told
 	}
-	return o
+	return o, w.starts
 }
 
 const errorNames = "NameError TypeError IndexError KeyError ValueError ZeroDivisionError OverflowError RecursionError"
@@ -768,16 +783,21 @@ const errorNames = "NameError TypeError IndexError KeyError ValueError ZeroDivis
 // P40 to P46: made-up programs do what a second walker does, whose values, names and ends are other ones. P47: with other fuel, and again.
 func TestMadeUp(t *testing.T) {
 	input := []string{"one", "", "a b", "\xff\"\n"}
-	kinds := map[string]int{}
+	kinds, deepest := map[string]int{}, 0
 	for seed := range 1000 {
 		l := made.Program(seed)
 		const fuel = 2000
-		want := modelled(l, input, fuel)
+		want, begun := modelled(l, input, fuel)
 		got, err := walk.Run(l, input, fuel)
 		if err != nil || got != want {
 			s, _ := tree.Text(l)
 			t.Fatalf("%d:\n%s%v, %v, want %v", seed, s, got, err, want)
 		}
+		if starts, again, err := walk.Starts(l, input, fuel); err != nil || again != want || !slices.Equal(starts, begun) {
+			s, _ := tree.Text(l)
+			t.Fatalf("%d:\n%s%v, %v, %v, want %v", seed, s, starts, again, err, begun)
+		}
+		deepest = max(deepest, deep(begun))
 		kinds[got.Kind]++
 		for _, name := range strings.Fields(errorNames) {
 			if strings.Contains(got.Value+got.Output, name) {
@@ -793,6 +813,18 @@ func TestMadeUp(t *testing.T) {
 			t.Errorf("just %d were %s", kinds[k], k)
 		}
 	}
+	if deepest != api.MaxCalls {
+		t.Errorf("no more than %d calls were open", deepest)
+	}
+}
+
+// deep: how many calls were open at most where a statement began.
+func deep(l []walk.Start) int {
+	most := 0
+	for _, s := range l {
+		most = max(most, s.Deep)
+	}
+	return most
 }
 
 // otherFuel: P47.

@@ -7,9 +7,10 @@ import (
 	"nurserypy/tree"
 )
 
-// A stmt is a statement that knows what function it makes.
+// A stmt is a statement that knows its number, and what function it makes.
 type stmt struct {
 	tree.Stmt
+	number     int
 	terms      []expr
 	body, rest []stmt // rest: the Else
 	makes      *recipe
@@ -38,9 +39,10 @@ func planned(l []tree.Stmt, scopes []scope.Scope) []stmt {
 	return p.statements(l)
 }
 
-// A planner goes through a program in the order of its scopes.
+// A planner goes through a program in the order of its text, which is that of its scopes, too.
 type planner struct {
 	scopes []scope.Scope // those that did not yet begin
+	begun  int           // how many statements were
 }
 
 func (p *planner) recipe(params []string) *recipe {
@@ -58,7 +60,8 @@ func (p *planner) statements(l []tree.Stmt) []stmt {
 }
 
 func (p *planner) statement(s tree.Stmt) stmt {
-	out := stmt{Stmt: s, terms: p.terms(s.L)}
+	out := stmt{Stmt: s, number: p.begun, terms: p.terms(s.L)}
+	p.begun++
 	if s.Kind == "def" {
 		out.makes = p.recipe(s.P)
 		out.makes.body = p.statements(s.Body)

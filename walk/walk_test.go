@@ -177,6 +177,9 @@ func fails(t *testing.T, want error, l []tree.Stmt, input []string, fuel int) {
 	if o != (api.Outcome{}) || !errors.Is(err, want) || errors.As(err, &fault) != (want == api.ErrName) {
 		t.Errorf("%v, %v, want %v", o, err, want)
 	}
+	if starts, again, other := walk.Starts(l, input, fuel); len(starts) != 0 || again != o || other.Error() != err.Error() {
+		t.Errorf("%v, %v, %v, want %v", starts, again, other, err)
+	}
 }
 
 // P40, P3: errors, in their order.
