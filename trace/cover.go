@@ -20,7 +20,7 @@ func Cover(l []tree.Stmt, runs [][]string, fuel int, workers int) ([]bool, error
 		return nil, err
 	}
 	among := statements(l)
-	if among > api.MaxSource { // where there are no runs, nobody else asks
+	if among > mostTold { // no run would take it; where there are none, nobody else asks
 		return nil, api.ErrShape
 	}
 	out := make([]bool, among)

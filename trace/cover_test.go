@@ -3,6 +3,7 @@ package trace_test
 import (
 	"fmt"
 	"reflect"
+	"runtime/debug"
 	"slices"
 	"strconv"
 	"strings"
@@ -168,8 +169,45 @@ func TestNoRuns(t *testing.T) {
 		if got, err := trace.Cover(make([]tree.Stmt, 3), [][]string{}, fuel, 1); err != nil || !slices.Equal(got, make([]bool, 3)) {
 			t.Error(got, err)
 		}
-		coverFails(t, api.ErrShape, deepTree(100000), nil, fuel, 1)
-		coverFails(t, api.ErrShape, wideTree(200), nil, fuel, 1)
+	}
+}
+
+// P131, P3: without runs, however many statements there are: more than a program can have, too.
+func TestNoRunsOfMany(t *testing.T) {
+	body := make([]tree.Stmt, 3000)
+	for among, l := range map[int][]tree.Stmt{
+		api.MaxSource:     passes(api.MaxSource),
+		api.MaxSource + 1: passes(api.MaxSource + 1),
+		1000003:           passes(1000003),
+		12001:             {{Kind: "try", Body: passes(api.MaxSource), Else: passes(api.MaxSource)}},
+		100001:            deepTree(100000),
+		1<<13 - 1:         wideTree(12),
+		1<<21 - 1:         wideTree(20),
+		6006:              {{Body: body}, {}, {Else: body}, {Kind: "if", Body: []tree.Stmt{{}}, Else: []tree.Stmt{{}}}},
+		3000 * 3001:       slices.Repeat([]tree.Stmt{{Kind: "if", Body: body}}, 3000),
+	} {
+		for _, workers := range []int{1, 2, api.Workers} {
+			got, err := trace.Cover(l, nil, 100, workers)
+			if len(got) != among || err != nil || slices.Contains(got, true) {
+				t.Errorf("%d statements, %d workers: %d, %v", among, workers, len(got), err)
+			}
+		}
+	}
+}
+
+func passes(n int) []tree.Stmt { return slices.Repeat([]tree.Stmt{{Kind: "pass"}}, n) }
+
+// P1: it ends where a tree has more statements than could be told, or is deeper than calls could be in each other.
+func TestNoRunsEnds(t *testing.T) {
+	for _, deep := range []int{26, 62, 63, 64, 200} {
+		coverFails(t, api.ErrShape, wideTree(deep), nil, 1, 1)
+	}
+	if got, err := trace.Cover(wideTree(25), nil, 1, 1); len(got) != 1<<26-1 || err != nil {
+		t.Error(len(got), err)
+	}
+	defer debug.SetMaxStack(debug.SetMaxStack(1 << 23))
+	if got, err := trace.Cover(deepTree(200000), nil, 1, 1); len(got) != 200001 || err != nil {
+		t.Error(len(got), err)
 	}
 }
 
