@@ -1,4 +1,4 @@
-// Package rules: what the language says wherever its values lie: walk and vm go by it. A text beside an answer is what
+// Package rules: what the language says wherever its values lie: walk, vm and small go by it. A text beside an answer is what
 // is to be raised; it is empty, if nothing is wrong.
 package rules
 

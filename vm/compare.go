@@ -1,7 +1,6 @@
 package vm
 
 import (
-	"cmp"
 	"strings"
 
 	"nurserypy/api"
@@ -80,14 +79,7 @@ func (c *comparison) partner(keys row, n int, others row) int {
 
 // order: below 0, 0 or above it, as the left one is less, equal or more.
 func (m *machine) order(left, right int) int {
-	v, w := m.value(left), m.value(right)
-	if x, y, ok := both[int64](v, w); ok {
-		return cmp.Compare(x, y)
-	}
-	if x, y, ok := both[string](v, w); ok {
-		return cmp.Compare(x, y)
-	}
-	panic(failed(rules.TypeError))
+	return sure(rules.Order(m.value(left), m.value(right)))
 }
 
 // contains: what `in` asks.

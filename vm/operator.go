@@ -32,12 +32,12 @@ func (m *machine) operate(name string, left, right int) {
 
 func (m *machine) pushSum(left, right int) {
 	v, w := m.value(left), m.value(right)
-	if x, y, ok := both[string](v, w); ok {
+	if x, y, ok := rules.Both[string](v, w); ok {
 		ask(rules.Fits(len(x) + len(y)))
 		m.pushText(x + y)
 		return
 	}
-	if x, y, ok := both[list](v, w); ok {
+	if x, y, ok := rules.Both[list](v, w); ok {
 		m.pushJoined(x.row(), y.row())
 		return
 	}

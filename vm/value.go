@@ -78,13 +78,6 @@ func as[T any](v any) T {
 	return x
 }
 
-// both: two values, if they have this kind, both of them.
-func both[T any](v, w any) (x, y T, ok bool) {
-	x, one := v.(T)
-	y, other := w.(T)
-	return x, y, one && other
-}
-
 func (m *machine) truth(slot int) bool {
 	switch x := m.value(slot).(type) {
 	case list, dict:

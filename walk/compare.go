@@ -1,7 +1,6 @@
 package walk
 
 import (
-	"cmp"
 	"strings"
 
 	"nurserypy/rules"
@@ -23,10 +22,10 @@ func equal(left, right any) bool {
 
 // equal: lists and dicts are so deep in what is compared.
 func (c *comparison) equal(left, right any, deep int) bool {
-	if x, y, ok := both[*list](left, right); ok {
+	if x, y, ok := rules.Both[*list](left, right); ok {
 		return sure(c.Equal(couple{x, y}, deep, func() bool { return c.lists(x, y, deep+1) }))
 	}
-	if x, y, ok := both[*dict](left, right); ok {
+	if x, y, ok := rules.Both[*dict](left, right); ok {
 		return sure(c.Equal(couple{x, y}, deep, func() bool { return c.dicts(x, y, deep+1) }))
 	}
 	return left == right
@@ -64,17 +63,6 @@ func same(left, right any) bool {
 		return left == right
 	}
 	return equal(left, right)
-}
-
-// order: below 0, 0 or above it, as the left one is less, equal or more.
-func order(left, right any) int {
-	if x, y, ok := both[int64](left, right); ok {
-		return cmp.Compare(x, y)
-	}
-	if x, y, ok := both[string](left, right); ok {
-		return cmp.Compare(x, y)
-	}
-	panic(raised{rules.TypeError})
 }
 
 // contains: what `in` asks.

@@ -72,7 +72,9 @@ func operate(op string, left, right any) any {
 	case "index":
 		return index(left, right)
 	case "+":
-		return add(left, right)
+		if x, y, ok := rules.Both[*list](left, right); ok {
+			return joint(x, y)
+		}
 	case "==":
 		return equal(left, right)
 	case "!=":
@@ -81,28 +83,14 @@ func operate(op string, left, right any) any {
 		return same(left, right)
 	case "in":
 		return contains(right, left)
-	case "<":
-		return order(left, right) < 0
-	case "<=":
-		return order(left, right) <= 0
-	case ">":
-		return order(left, right) > 0
-	case ">=":
-		return order(left, right) >= 0
 	}
-	return sure(rules.Number(op, as[int64](left), as[int64](right)))
+	return sure(rules.Operate(op, left, right))
 }
 
-func add(left, right any) any {
-	if x, y, ok := both[string](left, right); ok {
-		ask(rules.Fits(len(x) + len(y)))
-		return x + y
-	}
-	if x, y, ok := both[*list](left, right); ok {
-		ask(rules.Fits(len(x.items) + len(y.items)))
-		return &list{items: slices.Concat(x.items, y.items)}
-	}
-	return sure(rules.Number("+", as[int64](left), as[int64](right)))
+// joint: a new list of the elements of two.
+func joint(x, y *list) *list {
+	ask(rules.Fits(len(x.items) + len(y.items)))
+	return &list{items: slices.Concat(x.items, y.items)}
 }
 
 func index(thing, at any) any {

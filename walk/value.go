@@ -26,13 +26,6 @@ func as[T any](v any) T {
 	return x
 }
 
-// both: two values, if they have this kind, both of them.
-func both[T any](v, w any) (x, y T, ok bool) {
-	x, first := v.(T)
-	y, second := w.(T)
-	return x, y, first && second
-}
-
 func truth(v any) bool {
 	switch x := v.(type) {
 	case *list:
